@@ -5,6 +5,7 @@ import (
 	"testing"
 
 	"lathe/api"
+	"lathe/samples"
 )
 
 // TestNaN: F1, any NaN in any place.
@@ -322,9 +323,9 @@ func TestPower(t *testing.T) {
 
 // TestPowerOrder: F7, which product is rounded ahead of which, spelt out.
 func TestPowerOrder(t *testing.T) {
-	numbers := source(7)
+	numbers := samples.Source(7)
 	for range 2000 {
-		x := numbers.next()&0x807fffff | 0x3f800000
+		x := numbers.Next()&0x807fffff | 0x3f800000
 		second := Mul(x, x)
 		third := Mul(second, x)
 		sixth := Mul(third, third)

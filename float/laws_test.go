@@ -6,6 +6,7 @@ import (
 	"testing"
 
 	"lathe/api"
+	"lathe/samples"
 )
 
 // pairs hands on the edges with each other, then pairs from all over; with NaNs, if they are wanted.
@@ -19,12 +20,12 @@ func pairs(withNaNs bool, take func(a, b api.F)) {
 			take(a, b)
 		}
 	}
-	numbers := source(5)
+	numbers := samples.Source(5)
 	for range 20000 {
-		a := numbers.number()
-		take(a, numbers.number())
-		take(a, numbers.near(a, 25))
-		take(a, numbers.near(a, 1))
+		a := numbers.Number()
+		take(a, numbers.Number())
+		take(a, numbers.Near(a, 25))
+		take(a, numbers.Near(a, 1))
 	}
 }
 
@@ -56,7 +57,7 @@ func atMost(a, b api.F) bool {
 
 // TestKeepOrder: F9.
 func TestKeepOrder(t *testing.T) {
-	numbers := source(6)
+	numbers := samples.Source(6)
 	pairs(false, func(a, b api.F) {
 		if !atMost(a, b) {
 			a, b = b, a
@@ -64,7 +65,7 @@ func TestKeepOrder(t *testing.T) {
 		if x, y := Sqrt(a), Sqrt(b); !isNaN(x) && !isNaN(y) && !atMost(x, y) {
 			t.Errorf("Sqrt(%08x) = %08x, Sqrt(%08x) = %08x", a, x, b, y)
 		}
-		for _, c := range []api.F{numbers.number(), numbers.near(a, 25), 0x80000000, 0xff7fffff, 0x7f7fffff, plusInf, minusInf} {
+		for _, c := range []api.F{numbers.Number(), numbers.Near(a, 25), 0x80000000, 0xff7fffff, 0x7f7fffff, plusInf, minusInf} {
 			if x, y := Add(a, c), Add(b, c); !isNaN(x) && !isNaN(y) && !atMost(x, y) {
 				t.Errorf("Add(%08x, %08x) = %08x, Add(%08x, it) = %08x", a, c, x, b, y)
 			}
@@ -127,10 +128,10 @@ func TestErrorOfSum(t *testing.T) {
 func TestShortProducts(t *testing.T) {
 	least := exact(0x00800000)
 	most := exact(0x7f000000)
-	numbers := source(8)
+	numbers := samples.Source(8)
 	seen := 0
 	for range 40000 {
-		a, b := numbers.short(), numbers.short()
+		a, b := numbers.Number()&0xfffff000, numbers.Number()&0xfffff000 // 12 leading bits at most
 		if !isFinite(a) || !isFinite(b) {
 			continue
 		}

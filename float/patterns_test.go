@@ -1,6 +1,9 @@
 package float
 
-import "lathe/api"
+import (
+	"lathe/api"
+	"lathe/samples"
+)
 
 // edges are the patterns that the chapter names and their neighbours, in the order, no NaN among them.
 func edges() []api.F {
@@ -18,36 +21,7 @@ func edges() []api.F {
 	return append(all, plus...)
 }
 
-// nans are of either sign, quiet ones and others.
+// nans are of all kinds, the one that is told too.
 func nans() []api.F {
-	return []api.F{0x7f800001, 0x7fbfffff, 0x7fc00000, 0x7fc00001, 0x7fffffff, 0xff800001, 0xffbfffff, 0xffc00000, 0xffabcdef, 0xffffffff}
-}
-
-// A source gives patterns from all over, the same ones in each run.
-type source uint64
-
-func (s *source) next() api.F {
-	*s = *s*6364136223846793005 + 1442695040888963407
-	return api.F(*s >> 32)
-}
-
-// number is a pattern that is no NaN.
-func (s *source) number() api.F {
-	for {
-		if a := s.next(); !isNaN(a) {
-			return a
-		}
-	}
-}
-
-// near is a number whose exponent is at most reach from that of a, so that both weigh in a sum.
-func (s *source) near(a api.F, reach int) api.F {
-	e := int(a>>23&255) - reach + int(s.next()>>8)%(2*reach+1)
-	e = max(0, min(e, 254))
-	return s.next()&0x807fffff | api.F(e)<<23
-}
-
-// short has 12 leading bits at most.
-func (s *source) short() api.F {
-	return s.number() & 0xfffff000
+	return append(samples.NaNs(), nan)
 }

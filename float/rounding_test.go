@@ -7,6 +7,7 @@ import (
 	"testing"
 
 	"lathe/api"
+	"lathe/samples"
 )
 
 // holdRounded: F2 to F5 and F10 (rounding), against exact reckoning.
@@ -43,36 +44,36 @@ func TestRoundedEdges(t *testing.T) {
 
 // TestRoundedSpread: patterns from all over, and such as weigh in one sum, or whose product or quotient comes out about the least numbers.
 func TestRoundedSpread(t *testing.T) {
-	numbers := source(2)
+	numbers := samples.Source(2)
 	for range 1500 {
-		a := numbers.number()
+		a := numbers.Number()
 		holdRoot(t, a)
-		holdRounded(t, a, numbers.number())
-		holdRounded(t, a, numbers.near(a, 26))
-		holdRounded(t, a, numbers.near(0, 2))
+		holdRounded(t, a, numbers.Number())
+		holdRounded(t, a, numbers.Near(a, 26))
+		holdRounded(t, a, numbers.Near(0, 2))
 	}
 	for range 1500 {
-		a := numbers.near(0x20000000, 60)
+		a := numbers.Near(0x20000000, 60)
 		small := (127 - a>>23&255) << 23 // times a: about the least normal number
-		holdRounded(t, a, numbers.near(small, 24))
-		holdRounded(t, numbers.near(0x00800000, 30), numbers.near(0x3f800000, 30))
+		holdRounded(t, a, numbers.Near(small, 24))
+		holdRounded(t, numbers.Near(0x00800000, 30), numbers.Near(0x3f800000, 30))
 	}
 }
 
 // TestHalfway: sums, products and quotients that lie just between two numbers, of which the even one is told.
 func TestHalfway(t *testing.T) {
 	const threeHalves = api.F(0x3fc00000)
-	numbers := source(3)
+	numbers := samples.Source(3)
 	for range 20000 {
-		a, b := numbers.next()&0x7fffff|0x3f800000, api.F(0x33800000) // b is the half of a's last place
+		a, b := numbers.Next()&0x7fffff|0x3f800000, api.F(0x33800000) // b is the half of a's last place
 		if got, want := Add(a, b), a+a&1; got != want {
 			t.Errorf("Add(%08x, %08x) = %08x, want %08x", a, b, got, want)
 		}
-		m := numbers.next()&0x1fffff | 0x800001 // odd, so that 3m/2 is halfway
+		m := numbers.Next()&0x1fffff | 0x800001 // odd, so that 3m/2 is halfway
 		if got, want := Mul(m-0x800000+0x3f800000, threeHalves), evenHalf(3*m)-0x800000+0x3f800000; got != want {
 			t.Errorf("Mul of the fraction %06x and 1.5 = %08x, want %08x", m, got, want)
 		}
-		f := numbers.next()&0x7fffff | 1 // a subnormal, its half too
+		f := numbers.Next()&0x7fffff | 1 // a subnormal, its half too
 		if mul, div := Mul(f, api.Half), Div(f, api.Two); mul != evenHalf(f) || div != evenHalf(f) {
 			t.Errorf("half of %08x: %08x, %08x, want %08x", f, mul, div, evenHalf(f))
 		}
@@ -141,9 +142,9 @@ func TestFromIntRounded(t *testing.T) {
 			}
 		}
 	}
-	numbers := source(4)
+	numbers := samples.Source(4)
 	for range 1000 {
-		n := int(uint64(numbers.next())<<32|uint64(numbers.next())) >> (numbers.next() >> 26)
+		n := int(uint64(numbers.Next())<<32|uint64(numbers.Next())) >> (numbers.Next() >> 26)
 		hold(n)
 	}
 	hold(math.MaxInt64)

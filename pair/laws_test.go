@@ -5,11 +5,12 @@ import (
 
 	"lathe/api"
 	"lathe/float"
+	"lathe/samples"
 )
 
 // sameBut: the same but for the sign of parts that are noughts.
 func sameBut(z, w api.C) bool {
-	return (z.Re == w.Re || isNought(z.Re) && isNought(w.Re)) && (z.Im == w.Im || isNought(z.Im) && isNought(w.Im))
+	return (z.Re == w.Re || samples.IsNought(z.Re) && samples.IsNought(w.Re)) && (z.Im == w.Im || samples.IsNought(z.Im) && samples.IsNought(w.Im))
 }
 
 // TestLaws: PA5, what holds for all bits.
@@ -62,14 +63,14 @@ func TestWholeEdges(t *testing.T) {
 
 // TestWholeSpread: PA5, from all over, and small ones with their squares below 2^24.
 func TestWholeSpread(t *testing.T) {
-	numbers := source(14)
+	numbers := samples.Source(14)
 	for _, limit := range []int{2047, 2047, 2047, 64, 45, 8} {
 		for range 100000 {
-			wholeProduct(t, numbers.upTo(limit), numbers.upTo(limit), numbers.upTo(limit), numbers.upTo(limit))
+			wholeProduct(t, numbers.UpTo(limit), numbers.UpTo(limit), numbers.UpTo(limit), numbers.UpTo(limit))
 		}
 	}
 	for range 100000 {
-		wholeProduct(t, numbers.upTo(2047), numbers.upTo(2047), numbers.upTo(2), numbers.upTo(1))
+		wholeProduct(t, numbers.UpTo(2047), numbers.UpTo(2047), numbers.UpTo(2), numbers.UpTo(1))
 	}
 }
 

@@ -5,6 +5,7 @@ import (
 	"testing"
 
 	"lathe/api"
+	"lathe/samples"
 )
 
 // TestPairs: PA4.
@@ -54,7 +55,7 @@ func TestFlat(t *testing.T) {
 
 // TestListsKeepBits: PA4, NaNs of all patterns stay which they are, in either part.
 func TestListsKeepBits(t *testing.T) {
-	for _, a := range append(edges(), nans()...) {
+	for _, a := range append(samples.Edges(), samples.NaNs()...) {
 		pairs, err := Pairs([]api.F{a, 1, 2, a})
 		if err != api.OK || !slices.Equal(pairs, []api.C{c(a, 1), c(2, a)}) {
 			t.Errorf("Pairs with %08x: %08x, %d", a, pairs, err)
@@ -67,16 +68,13 @@ func TestListsKeepBits(t *testing.T) {
 
 // TestThereAndBack: PA6, at all even lengths up to some, and the greatest of a parameter.
 func TestThereAndBack(t *testing.T) {
-	numbers := source(13)
+	numbers := samples.Source(13)
 	lengths := []int{2 * api.MaxLen}
 	for n := 0; n <= 64; n += 2 {
 		lengths = append(lengths, n)
 	}
 	for _, n := range lengths {
-		list := make([]api.F, n)
-		for i := range list {
-			list[i] = numbers.next()
-		}
+		list := numbers.List(n)
 		pairs, err := Pairs(list)
 		if err != api.OK || len(pairs) != n/2 || !slices.Equal(Flat(pairs), list) {
 			t.Errorf("Flat of Pairs of %08x: %08x, error %d", list, Flat(pairs), err)

@@ -6,6 +6,7 @@ import (
 
 	"lathe/api"
 	"lathe/float"
+	"lathe/samples"
 )
 
 // A row is what an operation answers of two numbers.
@@ -91,7 +92,7 @@ func TestNegConj(t *testing.T) {
 			t.Errorf("Conj(%08x) = %08x, want %08x", r.z, got, r.conj)
 		}
 	}
-	for _, n := range nans() {
+	for _, n := range samples.NaNs() {
 		if got := Neg(c(n, n)); got != c(nan, nan) {
 			t.Errorf("Neg of %08x: %08x", n, got)
 		}
@@ -217,7 +218,7 @@ func TestByFloat(t *testing.T) {
 		if got != want {
 			t.Errorf("%s(%08x, %08x) = %08x, want %08x", name, z, w, got, want)
 		}
-		if !isTold(got.Re) || !isTold(got.Im) {
+		if !samples.IsTold(got.Re) || !samples.IsTold(got.Im) {
 			t.Errorf("%s(%08x, %08x) tells %08x", name, z, w, got)
 		}
 	}
@@ -257,7 +258,7 @@ func TestPowerOfOne(t *testing.T) {
 			t.Errorf("Power(%08x, 1) = %08x", z, got)
 		}
 	}
-	for _, n := range nans() {
+	for _, n := range samples.NaNs() {
 		if got := Power(c(n, 0xbf800000), 1); got != c(nan, 0xbf800000) {
 			t.Errorf("Power of the part %08x, 1: %08x", n, got)
 		}
@@ -326,14 +327,14 @@ func TestPowerByBits(t *testing.T) {
 		powers = append(powers, n)
 	}
 	var all []api.C
-	for _, a := range edges() {
-		for _, b := range edges() {
+	for _, a := range samples.Edges() {
+		for _, b := range samples.Edges() {
 			all = append(all, c(a, b))
 		}
 	}
-	numbers := source(12)
+	numbers := samples.Source(12)
 	for range 500 {
-		all = append(all, c(numbers.near(126, 1), numbers.near(126, 1)), c(numbers.next(), numbers.next()))
+		all = append(all, c(numbers.Near(0x3f000000, 1), numbers.Near(0x3f000000, 1)), c(numbers.Next(), numbers.Next()))
 	}
 	for _, z := range all {
 		for _, n := range powers {
