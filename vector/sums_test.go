@@ -203,6 +203,20 @@ func TestMean(t *testing.T) {
 	holdNaNs(t, "Mean", Mean)
 }
 
+// TestMeanLong: V2, a length that is itself rounded: divided by the length as it is, it would be 3f7fffff.
+func TestMeanLong(t *testing.T) {
+	if testing.Short() {
+		t.Skip("it takes 64 MiB")
+	}
+	list := make([]api.F, 1<<24+1)
+	for i := range list {
+		list[i] = 0x3f800000
+	}
+	if got := Mean(list); got != 0x3f800000 {
+		t.Errorf("Mean of 2^24 + 1 ones: %08x", got)
+	}
+}
+
 // TestOfOne: V2, what one element gives.
 func TestOfOne(t *testing.T) {
 	for _, a := range append(samples.Edges(), samples.NaNs()...) {
