@@ -1,13 +1,10 @@
 package ir
 
 import (
-	"fmt"
-	"slices"
-	"strconv"
-	"strings"
 	"testing"
 
 	"lathe/api"
+	"lathe/samples"
 )
 
 // The document's numbers once more, so that a change of package api is seen.
@@ -36,10 +33,7 @@ const (
 	minInt = -maxInt - 1
 )
 
-// names are those of the instructions, the first one of Op 1.
-func names() []string {
-	return strings.Fields("Number Whole Copy Add Sub Mul Div Min Max Less Sqrt Neg Abs Finite Select Power From Test Sum Least Inc Less2 Same And Not Choose Minus Over Grad Param Out Load Store When End Loop Next")
-}
+func names() []string { return samples.Names() }
 
 // ops are all that there are.
 func ops() []int {
@@ -50,43 +44,11 @@ func ops() []int {
 	return all
 }
 
-// field is the field of that letter.
-func field(i *api.Inst, letter byte) *int {
-	return map[byte]*int{'D': &i.D, 'A': &i.A, 'B': &i.B, 'C': &i.C, 'N': &i.N, '?': &i.Op}[letter]
-}
+func field(i *api.Inst, letter byte) *int { return samples.Field(i, letter) }
 
-// read is the instructions of a text, such as "Number D0 =3f000000; Mul D1 A1 B0": what is not named is 0.
-func read(text string) []api.Inst {
-	var list []api.Inst
-	for _, piece := range strings.Split(text, ";") {
-		words := strings.Fields(piece)
-		if len(words) == 0 {
-			continue
-		}
-		i := api.Inst{Op: 1 + slices.Index(names(), words[0])}
-		for _, w := range words[1:] {
-			if hex, ok := strings.CutPrefix(w, "="); ok {
-				pattern, err := strconv.ParseUint(hex, 16, 32)
-				i.Bits = api.F(pattern)
-				need(err == nil, piece)
-				continue
-			}
-			n, err := strconv.Atoi(w[1:])
-			need(err == nil && field(&i, w[0]) != nil, piece)
-			*field(&i, w[0]) = n
-		}
-		need(i.Op != 0 || words[0] == "?", piece)
-		list = append(list, i)
-	}
-	return list
-}
+func read(text string) []api.Inst { return samples.Read(text) }
 
-// need gives up, if a test is written wrongly.
-func need(ok bool, what string) {
-	if !ok {
-		panic("no instruction: " + what)
-	}
-}
+func show(c api.Code) string { return samples.Show(c) }
 
 func numberType() api.Type { return api.Type{Kind: typeNumber} }
 
@@ -113,20 +75,6 @@ const setAll = "Number D0; Number D1; Whole D2; Whole D3; Grad D4; Grad D5; Grad
 // behind is the usual code whose registers are all set, with this behind that; and how many instructions stand ahead of it.
 func behind(text string) (api.Code, int) {
 	return usual(append(read(setAll), read(text)...)...), 9
-}
-
-// show is code as a text, of a long one the beginning.
-func show(c api.Code) string {
-	var parts []string
-	for _, i := range c.List[:min(len(c.List), 60)] {
-		name := "?" + strconv.Itoa(i.Op)
-		if i.Op >= 1 && i.Op <= len(names()) {
-			name = names()[i.Op-1]
-		}
-		parts = append(parts, fmt.Sprintf("%s D%d A%d B%d C%d N%d =%08x", name, i.D, i.A, i.B, i.C, i.N, i.Bits))
-	}
-	return fmt.Sprintf("%d instructions %s, %d parameters %v, %d registers %v, %d slots %v", len(c.List), strings.Join(parts, "; "),
-		len(c.Sign), c.Sign[:min(len(c.Sign), 5)], len(c.Regs), c.Regs[:min(len(c.Regs), 20)], len(c.Slots), c.Slots[:min(len(c.Slots), 10)])
 }
 
 // holdCheck: Check answers this.
