@@ -12,19 +12,19 @@ import (
 func TestCount(t *testing.T) {
 	for _, text := range append(keepers(), "identity()", "scale(2)") {
 		m := machine(t, typed(t, text, mixed()), mixed())
-		r := &grower{samples.Source(1)}
+		r := growerOf(1)
 		if m.Count() != 0 {
 			t.Errorf("%s begins at %d", text, m.Count())
 		}
 		for i := range 5 {
-			stepped(t, m, r.vectors(mixed(), 0), r.vectors(mixed(), 0))
+			stepped(t, m, r.Moody(mixed(), 0), r.Moody(mixed(), 0))
 			if m.Count() != i+1 {
 				t.Errorf("%s: %d, want %d", text, m.Count(), i+1)
 			}
 		}
 		m.Jump(maxCount - 1)
 		for range 3 {
-			stepped(t, m, r.vectors(mixed(), 0), r.vectors(mixed(), 0))
+			stepped(t, m, r.Moody(mixed(), 0), r.Moody(mixed(), 0))
 			if m.Count() != maxCount {
 				t.Errorf("%s: %d", text, m.Count())
 			}
@@ -149,21 +149,16 @@ func TestPowersOfCounts(t *testing.T) {
 			t.Errorf("behind a jump to %d: %08x, want %08x", c.to, got, c.want)
 		}
 	}
-	r := &grower{samples.Source(11)}
+	r := growerOf(11)
 	for _, op := range []int{8, 9, 12, 13, 14, 32} {
-		for _, s := range specs() {
-			if s.op != op {
-				continue
-			}
-			for range 50 {
-				x := r.grown(s, 1, 0)
-				m, w := machine(t, x, mixed()), wordsOf(x, mixed())
-				for _, to := range []int{maxCount - 2, 1 << 20, maxCount - 1, maxCount, 0, 1000, 3} {
-					m.Jump(to)
-					w.jump(to)
-					for range 4 {
-						holdStep(t, m, w, r.vectors(mixed(), 1), r.vectors(mixed(), 1))
-					}
+		for range 50 {
+			x := r.Transform(samples.RowOf(op), 1, 0)
+			m, w := machine(t, x, mixed()), wordsOf(x, mixed())
+			for _, to := range []int{maxCount - 2, 1 << 20, maxCount - 1, maxCount, 0, 1000, 3} {
+				m.Jump(to)
+				w.jump(to)
+				for range 4 {
+					holdStep(t, m, w, r.Moody(mixed(), 1), r.Moody(mixed(), 1))
 				}
 			}
 		}

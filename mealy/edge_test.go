@@ -262,15 +262,15 @@ func TestLengths(t *testing.T) {
 
 // TestAllPairsOfEdges: ME3 and P12, each row with each pair of edges as gradient and parameter, real and complex, for two steps.
 func TestAllPairsOfEdges(t *testing.T) {
-	r := &grower{samples.Source(31)}
+	r := growerOf(31)
 	edges := slices.Concat(samples.Edges(), []api.F{0x80000003, 0x20000000, 0xe0000000})
 	list := []api.Param{{Name: "w", Kind: 1, Len: 1}, {Name: "z", Kind: 2, Len: 1}}
-	for _, s := range specs() {
-		if s.kids > 0 {
+	for _, s := range samples.Rows() {
+		if s.Kids > 0 {
 			continue
 		}
-		x := r.grown(s, 1, 2)
-		if s.star {
+		x := r.Transform(s, 1, 2)
+		if s.Star {
 			x = api.Tx{Op: 28, Kids: []api.Tx{x}}
 		}
 		for _, g := range edges {

@@ -15,7 +15,7 @@ type twin struct{ a, b string }
 // holdTwins: both answer the same at each step, of numbers of all kinds, behind jumps too.
 func holdTwins(t *testing.T, list []api.Param, twins []twin) {
 	t.Helper()
-	r := &grower{samples.Source(41)}
+	r := growerOf(41)
 	for _, c := range twins {
 		holdTwin(t, r, c.a+" and "+c.b, typed(t, c.a, list), typed(t, c.b, list), list)
 	}
@@ -29,8 +29,8 @@ func holdTwin(t *testing.T, r *grower, what string, x, y api.Tx, list []api.Para
 			a.Jump(maxCount - 2)
 			b.Jump(maxCount - 2)
 		}
-		mood := r.below(5)
-		grads, params := r.vectors(list, mood), r.vectors(list, mood)
+		mood := r.Below(5)
+		grads, params := r.Moody(list, mood), r.Moody(list, mood)
 		if u, v := stepped(t, a, grads, params), stepped(t, b, grads, params); !same(u, v) {
 			t.Errorf("%s: step %d: %08x and %08x", what, i, u, v)
 		}
@@ -140,14 +140,14 @@ func TestMasks(t *testing.T) {
 
 // TestMaskedLeavesTheRest: ME4, the updates of what is not in the mask are the gradients, bits.Canon of each, whatever the kid, at each step.
 func TestMaskedLeavesTheRest(t *testing.T) {
-	r := &grower{samples.Source(43)}
+	r := growerOf(43)
 	for range 1500 {
-		list := append(r.list(), api.Param{Name: "x", Kind: 1, Len: 2}, api.Param{Name: "y", Kind: 2, Len: 2})
-		mask := r.mask(len(list))
-		kid := r.valid(1+r.below(4), list)
+		list := append(r.Params(4), api.Param{Name: "x", Kind: 1, Len: 2}, api.Param{Name: "y", Kind: 2, Len: 2})
+		mask := r.Mask(len(list))
+		kid := r.valid(1+r.Below(4), list)
 		m := machine(t, masked(kid, mask...), list)
 		for range 5 {
-			grads, params := r.vectors(list, 4), r.vectors(list, 4)
+			grads, params := r.Moody(list, 4), r.Moody(list, 4)
 			u := stepped(t, m, grads, params)
 			for i := range list {
 				for j := range u[i] {
@@ -167,10 +167,10 @@ func TestMaskedLeavesTheRest(t *testing.T) {
 // TestApart: P14, under TxMasked and TxPartition a parameter's updates are those of its own transform alone: of a machine over its own
 // parameters.
 func TestApart(t *testing.T) {
-	r := &grower{samples.Source(44)}
+	r := growerOf(44)
 	for range 600 {
-		list := append(r.list(), api.Param{Name: "x", Kind: 1, Len: 2}, api.Param{Name: "y", Kind: 2, Len: 2})
-		mask := r.mask(len(list))
+		list := append(r.Params(4), api.Param{Name: "x", Kind: 1, Len: 2}, api.Param{Name: "y", Kind: 2, Len: 2})
+		mask := r.Mask(len(list))
 		var in, out []api.Param
 		for i, p := range list {
 			if slices.Contains(mask, i) {
@@ -183,7 +183,7 @@ func TestApart(t *testing.T) {
 		m := machine(t, parting(kids, mask), list)
 		a, b := machine(t, kids[0], in), machine(t, kids[1], out)
 		for range 5 {
-			grads, params := r.vectors(list, 3), r.vectors(list, 3)
+			grads, params := r.Moody(list, 3), r.Moody(list, 3)
 			u := stepped(t, m, grads, params)
 			inside := func(i int) bool { return slices.Contains(mask, i) }
 			outside := func(i int) bool { return !inside(i) }
@@ -200,7 +200,7 @@ func TestApart(t *testing.T) {
 // unmasked is a program without masks, so that it may be over other signatures too.
 func unmasked(r *grower, list []api.Param) api.Tx {
 	for {
-		x := r.valid(1+r.below(4), list)
+		x := r.valid(1+r.Below(4), list)
 		ops := map[int]bool{}
 		if note(ops, x); !ops[24] && !ops[25] {
 			return x
@@ -220,18 +220,18 @@ func some(vectors [][]api.F, holds func(i int) bool) [][]api.F {
 
 // TestSplit: ME3 and P14, within a split a complex parameter's parts go as two real parameters, the real parts first, and masks mean both.
 func TestSplit(t *testing.T) {
-	r := &grower{samples.Source(45)}
+	r := growerOf(45)
 	asReal := []api.Param{{Name: "w", Kind: 1, Len: 3}, {Name: "z.re", Kind: 1, Len: 2}, {Name: "z.im", Kind: 1, Len: 2}, {Name: "a", Kind: 1, Len: 1}, {Name: "y.re", Kind: 1, Len: 1}, {Name: "y.im", Kind: 1, Len: 1}}
 	apart := func(v [][]api.F) [][]api.F {
 		return [][]api.F{v[0], {v[1][0], v[1][2]}, {v[1][1], v[1][3]}, v[2], v[3][:1], v[3][1:]}
 	}
 	for range 1500 {
-		x := r.program(1+r.below(4), len(mixed()))
+		x := r.AnyTransform(1+r.Below(4), len(mixed()))
 		m := machine(t, api.Tx{Op: 28, Kids: []api.Tx{x}}, mixed())
 		n := machine(t, widened(x), asReal)
 		for range 6 {
-			mood := r.below(5)
-			grads, params := r.vectors(mixed(), mood), r.vectors(mixed(), mood)
+			mood := r.Below(5)
+			grads, params := r.Moody(mixed(), mood), r.Moody(mixed(), mood)
 			u, v := stepped(t, m, grads, params), stepped(t, n, apart(grads), apart(params))
 			if !same(apart(u), v) {
 				t.Errorf("%s: %08x, want %08x", brief(x), apart(u), v)

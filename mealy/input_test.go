@@ -5,7 +5,6 @@ import (
 	"testing"
 
 	"lathe/api"
-	"lathe/samples"
 )
 
 // holdInput: a step with these answers ErrInput and no updates, and counts nothing.
@@ -28,12 +27,12 @@ func holdJump(t *testing.T, m *Machine, count int) {
 
 // misfits are vectors that do not fit a signature: too few, too many, one too short, one too long, one empty.
 func misfits(r *grower, list []api.Param) [][][]api.F {
-	all := [][][]api.F{append(r.vectors(list, 0), nil), append(r.vectors(list, 0), []api.F{one})}
+	all := [][][]api.F{append(r.Moody(list, 0), nil), append(r.Moody(list, 0), []api.F{one})}
 	if len(list) > 0 {
-		all = append(all, nil, [][]api.F{}, r.vectors(list, 0)[1:], r.vectors(list, 0)[:len(list)-1], make([][]api.F, len(list)))
+		all = append(all, nil, [][]api.F{}, r.Moody(list, 0)[1:], r.Moody(list, 0)[:len(list)-1], make([][]api.F, len(list)))
 	}
 	change := func(i int, do func(v []api.F) []api.F) {
-		vectors := r.vectors(list, 0)
+		vectors := r.Moody(list, 0)
 		vectors[i] = do(vectors[i])
 		all = append(all, vectors)
 	}
@@ -64,17 +63,17 @@ func keepers() []string {
 // TestMisfits: ME2, ErrInput of gradients, of parameters, of both, ahead of all steps and between them: nothing is counted, and what is kept
 // stays as it was.
 func TestMisfits(t *testing.T) {
-	r := &grower{samples.Source(7)}
+	r := growerOf(7)
 	for _, text := range keepers() {
 		x := typed(t, text, mixed())
 		m, w := machine(t, x, mixed()), wordsOf(x, mixed())
 		for range 5 {
 			for _, bad := range misfits(r, mixed()) {
-				holdInput(t, m, bad, r.vectors(mixed(), 0))
-				holdInput(t, m, r.vectors(mixed(), 0), bad)
+				holdInput(t, m, bad, r.Moody(mixed(), 0))
+				holdInput(t, m, r.Moody(mixed(), 0), bad)
 				holdInput(t, m, bad, bad)
 			}
-			holdStep(t, m, w, r.vectors(mixed(), 0), r.vectors(mixed(), 0))
+			holdStep(t, m, w, r.Moody(mixed(), 0), r.Moody(mixed(), 0))
 		}
 	}
 }
@@ -95,12 +94,12 @@ func TestNoParameters(t *testing.T) {
 
 // TestFormOfAnswers: ME2, the updates fit the signature, whatever the program.
 func TestFormOfAnswers(t *testing.T) {
-	r := &grower{samples.Source(8)}
+	r := growerOf(8)
 	for range 3000 {
-		list := r.list()
-		m := machine(t, r.valid(1+r.below(5), list), list)
+		list := r.Params(4)
+		m := machine(t, r.valid(1+r.Below(5), list), list)
 		for range 3 {
-			u := stepped(t, m, r.vectors(list, 4), r.vectors(list, 4))
+			u := stepped(t, m, r.Moody(list, 4), r.Moody(list, 4))
 			if len(u) != len(list) || !slices.EqualFunc(u, list, func(v []api.F, p api.Param) bool { return len(v) == p.Len*p.Kind }) {
 				t.Errorf("%v over %v", u, list)
 			}

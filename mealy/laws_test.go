@@ -1,7 +1,6 @@
 package mealy
 
 import (
-	"slices"
 	"testing"
 
 	"lathe/api"
@@ -26,8 +25,8 @@ func canonical(vectors [][]api.F) [][]api.F {
 func spoiled(r *grower, vectors [][]api.F) [][]api.F {
 	for _, v := range vectors {
 		for i := range v {
-			if r.below(3) == 0 {
-				v[i] = samples.NaNs()[r.below(len(samples.NaNs()))]
+			if r.Below(3) == 0 {
+				v[i] = samples.NaNs()[r.Below(len(samples.NaNs()))]
 			}
 		}
 	}
@@ -36,17 +35,17 @@ func spoiled(r *grower, vectors [][]api.F) [][]api.F {
 
 // TestNaNsAreOne: ME4 and rule 5, which NaN comes in makes no difference, in gradients and in parameters, and none but the one is told.
 func TestNaNsAreOne(t *testing.T) {
-	r := &grower{samples.Source(51)}
+	r := growerOf(51)
 	for i := range 4000 {
-		list := r.list()
-		s := specs()[i%len(specs())]
-		x := r.valid(1+r.below(4), list)
-		if s.kids == 0 && !s.star {
-			x = r.grown(s, 1, len(list))
+		list := r.Params(4)
+		s := samples.Rows()[i%len(samples.Rows())]
+		x := r.valid(1+r.Below(4), list)
+		if s.Kids == 0 && !s.Star {
+			x = r.Transform(s, 1, len(list))
 		}
 		a, b := machine(t, x, list), machine(t, x, list)
 		for range 4 {
-			grads, params := spoiled(r, r.vectors(list, 4)), spoiled(r, r.vectors(list, 4))
+			grads, params := spoiled(r, r.Moody(list, 4)), spoiled(r, r.Moody(list, 4))
 			u, v := stepped(t, a, grads, params), stepped(t, b, canonical(grads), canonical(params))
 			if !same(u, v) || !same(u, canonical(u)) {
 				t.Errorf("%s of %08x, %08x: %08x, want %08x", brief(x), grads, params, u, v)
@@ -57,20 +56,20 @@ func TestNaNsAreOne(t *testing.T) {
 
 // TestStepsBefore: ME4, a step's updates hang on the steps up to it alone: not on the steps behind it, nor on other machines.
 func TestStepsBefore(t *testing.T) {
-	r := &grower{samples.Source(52)}
+	r := growerOf(52)
 	for range 800 {
-		list := append(r.list(), api.Param{Name: "x", Kind: 1, Len: 2})
-		x := r.valid(1+r.below(4), list)
+		list := append(r.Params(4), api.Param{Name: "x", Kind: 1, Len: 2})
+		x := r.valid(1+r.Below(4), list)
 		var grads, params, want [][][]api.F
 		m := machine(t, x, list)
 		for range 6 {
-			mood := r.below(5)
-			grads, params = append(grads, r.vectors(list, mood)), append(params, r.vectors(list, mood))
+			mood := r.Below(5)
+			grads, params = append(grads, r.Moody(list, mood)), append(params, r.Moody(list, mood))
 			want = append(want, stepped(t, m, grads[len(want)], params[len(want)]))
 		}
 		again, other := machine(t, x, list), machine(t, x, list)
 		for i := range want {
-			stepped(t, other, r.vectors(list, 4), r.vectors(list, 4))
+			stepped(t, other, r.Moody(list, 4), r.Moody(list, 4))
 			if got := stepped(t, again, grads[i], params[i]); !same(got, want[i]) {
 				t.Errorf("%s: step %d: %08x, want %08x", brief(x), i, got, want[i])
 			}
@@ -80,10 +79,10 @@ func TestStepsBefore(t *testing.T) {
 
 // TestOneStepRounds: ME4, TxMultiSteps 1 asks its kid at each step: with +0 and each gradient added, that is as TxEvery 1 and the kid.
 func TestOneStepRounds(t *testing.T) {
-	r := &grower{samples.Source(53)}
+	r := growerOf(53)
 	for range 500 {
-		list := append(r.list(), api.Param{Name: "x", Kind: 1, Len: 2})
-		kid := r.valid(1+r.below(4), list)
+		list := append(r.Params(4), api.Param{Name: "x", Kind: 1, Len: 2})
+		kid := r.valid(1+r.Below(4), list)
 		often := api.Tx{Op: 26, Ints: []int{1}, Kids: []api.Tx{kid}}
 		holdTwin(t, r, brief(kid), often, chained(api.Tx{Op: 30, Ints: []int{1}}, kid), list)
 	}
@@ -92,10 +91,10 @@ func TestOneStepRounds(t *testing.T) {
 
 // TestGroupsAreOne: ME4, in programs from all over a chain of one kid is the kid, and chains in chains are one chain.
 func TestGroupsAreOne(t *testing.T) {
-	r := &grower{samples.Source(54)}
+	r := growerOf(54)
 	for range 500 {
-		list := append(r.list(), api.Param{Name: "x", Kind: 2, Len: 2})
-		a, b, c := r.valid(1+r.below(3), list), r.valid(1+r.below(3), list), r.valid(1+r.below(3), list)
+		list := append(r.Params(4), api.Param{Name: "x", Kind: 2, Len: 2})
+		a, b, c := r.valid(1+r.Below(3), list), r.valid(1+r.Below(3), list), r.valid(1+r.Below(3), list)
 		holdTwin(t, r, brief(a), chained(a), a, list)
 		holdTwin(t, r, brief(a), chained(a, chained(b, c)), chained(a, b, c), list)
 		holdTwin(t, r, brief(a), chained(chained(a, b), chained(c)), chained(a, b, c), list)
@@ -125,18 +124,18 @@ func TestPartsAsReals(t *testing.T) {
 
 // TestOneGoesWithAll: ME3, a piece of one element goes as any other: the same numbers as among several, where each goes by itself.
 func TestOneGoesWithAll(t *testing.T) {
-	r := &grower{samples.Source(55)}
+	r := growerOf(55)
 	several := []api.Param{{Name: "w", Kind: 1, Len: 3}, {Name: "z", Kind: 2, Len: 3}}
 	single := []api.Param{{Name: "w", Kind: 1, Len: 1}, {Name: "z", Kind: 2, Len: 1}}
 	for _, op := range []int{1, 2, 7, 8, 9, 10, 11, 12, 13, 14, 18, 20, 31, 32, 33, 39} {
-		s := specs()[slices.IndexFunc(specs(), func(s spec) bool { return s.op == op })]
+		s := samples.RowOf(op)
 		for range 50 {
-			x := r.grown(s, 1, 2)
+			x := r.Transform(s, 1, 2)
 			all := machine(t, x, several)
 			ones := []*Machine{machine(t, x, single), machine(t, x, single), machine(t, x, single)}
 			for range 5 {
-				mood := r.below(5)
-				grads, params := r.vectors(several, mood), r.vectors(several, mood)
+				mood := r.Below(5)
+				grads, params := r.Moody(several, mood), r.Moody(several, mood)
 				u := stepped(t, all, grads, params)
 				for i, m := range ones {
 					cut := func(v [][]api.F) [][]api.F { return [][]api.F{v[0][i : i+1], v[1][2*i : 2*i+2]} }

@@ -7,7 +7,6 @@ import (
 	"testing"
 
 	"lathe/api"
-	"lathe/samples"
 )
 
 // roomy is the list in memory of its own, with something in the spare room behind it.
@@ -118,10 +117,10 @@ func ruinVectors(vectors ...[][]api.F) {
 
 // TestProgramStays: rule 3, what New is given is neither changed nor kept: a machine goes on as it would, whatever becomes of that.
 func TestProgramStays(t *testing.T) {
-	r := &grower{samples.Source(61)}
+	r := growerOf(61)
 	for range 1500 {
-		list := append(r.list(), api.Param{Name: "x", Kind: 1, Len: 2})
-		x := r.valid(1+r.below(4), list)
+		list := append(r.Params(4), api.Param{Name: "x", Kind: 1, Len: 2})
+		x := r.valid(1+r.Below(4), list)
 		want := wordsOf(x, list)
 		handed, names := roomyTx(x), roomy(list, api.Param{Name: "spare", Kind: 9})
 		before, signature := openedTx(handed), fmt.Sprint(opened(names))
@@ -129,28 +128,28 @@ func TestProgramStays(t *testing.T) {
 		if openedTx(handed) != before || fmt.Sprint(opened(names)) != signature {
 			t.Errorf("%s was changed", brief(x))
 		}
-		holdStep(t, m, want, r.vectors(list, 1), r.vectors(list, 1))
+		holdStep(t, m, want, r.Moody(list, 1), r.Moody(list, 1))
 		if openedTx(handed) != before || fmt.Sprint(opened(names)) != signature {
 			t.Errorf("%s was changed by a step", brief(x))
 		}
 		ruin(handed)
 		clear(names)
 		for range 4 {
-			holdStep(t, m, want, r.vectors(list, 1), r.vectors(list, 1))
+			holdStep(t, m, want, r.Moody(list, 1), r.Moody(list, 1))
 		}
 	}
 }
 
 // TestVectorsStay: rule 3, what Step is given is neither changed nor kept, its spare room neither.
 func TestVectorsStay(t *testing.T) {
-	r := &grower{samples.Source(62)}
+	r := growerOf(62)
 	for range 1500 {
-		list := append(r.list(), api.Param{Name: "x", Kind: 1, Len: 2})
-		x := r.valid(1+r.below(4), list)
+		list := append(r.Params(4), api.Param{Name: "x", Kind: 1, Len: 2})
+		x := r.valid(1+r.Below(4), list)
 		m, w := machine(t, x, list), wordsOf(x, list)
 		for range 5 {
-			mood := r.below(5)
-			grads, params := roomyVectors(r.vectors(list, mood)), roomyVectors(r.vectors(list, mood))
+			mood := r.Below(5)
+			grads, params := roomyVectors(r.Moody(list, mood)), roomyVectors(r.Moody(list, mood))
 			before := fmt.Sprint(openedVectors(grads), openedVectors(params))
 			holdStep(t, m, w, grads, params)
 			if fmt.Sprint(openedVectors(grads), openedVectors(params)) != before {
@@ -179,14 +178,14 @@ func TestSameVectorTwice(t *testing.T) {
 
 // TestUpdatesAreTheCallers: rule 3, what was answered may be written over, spare room too, and no two vectors of it share any.
 func TestUpdatesAreTheCallers(t *testing.T) {
-	r := &grower{samples.Source(63)}
+	r := growerOf(63)
 	for range 1500 {
-		list := append(r.list(), api.Param{Name: "x", Kind: 1, Len: 2}, api.Param{Name: "y", Kind: 2, Len: 2})
-		x := r.valid(1+r.below(4), list)
+		list := append(r.Params(4), api.Param{Name: "x", Kind: 1, Len: 2}, api.Param{Name: "y", Kind: 2, Len: 2})
+		x := r.valid(1+r.Below(4), list)
 		m, w := machine(t, x, list), wordsOf(x, list)
 		for range 5 {
-			mood := r.below(5)
-			grads, params := r.vectors(list, mood), r.vectors(list, mood)
+			mood := r.Below(5)
+			grads, params := r.Moody(list, mood), r.Moody(list, mood)
 			before := fmt.Sprint(grads, params)
 			c := m.Clone()
 			u, want := stepped(t, m, grads, params), w.step(grads, params)
@@ -215,34 +214,34 @@ func TestUpdatesAreTheCallers(t *testing.T) {
 
 // TestClone: ME1, a clone ahead of all steps, between them, of a clone; behind it neither goes on with the other.
 func TestClone(t *testing.T) {
-	r := &grower{samples.Source(64)}
+	r := growerOf(64)
 	for _, text := range keepers() {
 		x := typed(t, text, mixed())
 		for steps := range 6 {
 			m, w := machine(t, x, mixed()), wordsOf(x, mixed())
 			for range steps {
-				holdStep(t, m, w, r.vectors(mixed(), 0), r.vectors(mixed(), 0))
+				holdStep(t, m, w, r.Moody(mixed(), 0), r.Moody(mixed(), 0))
 			}
 			c, v := m.Clone(), w.clone()
 			if c == m || c.Count() != steps {
 				t.Errorf("%s: the clone's count is %d, want %d", text, c.Count(), steps)
 			}
 			for range 3 { // now one, now the other
-				holdStep(t, m, w, r.vectors(mixed(), 0), r.vectors(mixed(), 0))
-				holdStep(t, c, v, r.vectors(mixed(), 0), r.vectors(mixed(), 0))
+				holdStep(t, m, w, r.Moody(mixed(), 0), r.Moody(mixed(), 0))
+				holdStep(t, c, v, r.Moody(mixed(), 0), r.Moody(mixed(), 0))
 			}
 			c.Jump(7)
 			v.jump(7)
-			holdStep(t, m, w, r.vectors(mixed(), 0), r.vectors(mixed(), 0))
-			holdStep(t, c, v, r.vectors(mixed(), 0), r.vectors(mixed(), 0))
+			holdStep(t, m, w, r.Moody(mixed(), 0), r.Moody(mixed(), 0))
+			holdStep(t, c, v, r.Moody(mixed(), 0), r.Moody(mixed(), 0))
 			m.Jump(3)
 			w.jump(3)
 			d, z := c.Clone(), v.clone()
 			for range 3 {
-				holdStep(t, d, z, r.vectors(mixed(), 0), r.vectors(mixed(), 0))
-				holdStep(t, m, w, r.vectors(mixed(), 0), r.vectors(mixed(), 0))
+				holdStep(t, d, z, r.Moody(mixed(), 0), r.Moody(mixed(), 0))
+				holdStep(t, m, w, r.Moody(mixed(), 0), r.Moody(mixed(), 0))
 			}
-			holdStep(t, c, v, r.vectors(mixed(), 0), r.vectors(mixed(), 0))
+			holdStep(t, c, v, r.Moody(mixed(), 0), r.Moody(mixed(), 0))
 			holdInput(t, d, nil, nil)
 		}
 	}
@@ -250,10 +249,10 @@ func TestClone(t *testing.T) {
 
 // TestSideBySide: rule 4, machines and clones go on at the same time, each by itself.
 func TestSideBySide(t *testing.T) {
-	r := &grower{samples.Source(65)}
+	r := growerOf(65)
 	var grads, params [][][]api.F
 	for range 20 {
-		grads, params = append(grads, r.vectors(mixed(), 1)), append(params, r.vectors(mixed(), 1))
+		grads, params = append(grads, r.Moody(mixed(), 1)), append(params, r.Moody(mixed(), 1))
 	}
 	for _, text := range keepers() {
 		x := typed(t, text, mixed())

@@ -28,16 +28,16 @@ func chained(kids ...api.Tx) api.Tx { return api.Tx{Op: 23, Kids: kids} }
 
 // TestNewTakes: ME1, a machine that has done no step, of each row.
 func TestNewTakes(t *testing.T) {
-	r := &grower{samples.Source(21)}
-	for _, s := range specs() {
+	r := growerOf(21)
+	for _, s := range samples.Rows() {
 		for range 20 {
-			holdNew(t, r.grown(s, 1, 0), nil, check.Valid(r.grown(s, 1, 0), nil))
-			if s.star {
-				holdNew(t, r.grown(s, 1, 4), mixed(), errComplex)
+			holdNew(t, r.Transform(s, 1, 0), nil, check.Valid(r.Transform(s, 1, 0), nil))
+			if s.Star {
+				holdNew(t, r.Transform(s, 1, 4), mixed(), errComplex)
 			}
-			if s.kids == 0 {
-				holdNew(t, r.grown(s, 1, 4), realsOf(mixed()), api.OK)
-				holdNew(t, api.Tx{Op: 28, Kids: []api.Tx{r.grown(s, 1, 4)}}, mixed(), api.OK)
+			if s.Kids == 0 {
+				holdNew(t, r.Transform(s, 1, 4), realsOf(mixed()), api.OK)
+				holdNew(t, api.Tx{Op: 28, Kids: []api.Tx{r.Transform(s, 1, 4)}}, mixed(), api.OK)
 			}
 		}
 	}
@@ -91,14 +91,14 @@ func TestNewAtTheLimits(t *testing.T) {
 	}
 	holdNew(t, deep, mixed(), api.OK)
 	holdNew(t, chained(deep), mixed(), errDeep)
-	holdSteps(t, &grower{samples.Source(5)}, deep, mixed(), 4)
+	holdSteps(t, growerOf(5), deep, mixed(), 4)
 
 	wideOne := chained()
 	for range maxNodes - 1 {
 		wideOne.Kids = append(wideOne.Kids, api.Tx{Op: 7, Nums: []api.F{half}, Ints: []int{0}})
 	}
 	holdNew(t, wideOne, real1(), api.OK)
-	holdSteps(t, &grower{samples.Source(6)}, wideOne, real1(), 3)
+	holdSteps(t, growerOf(6), wideOne, real1(), 3)
 	wideOne.Kids = append(wideOne.Kids, api.Tx{Op: 1})
 	holdNew(t, wideOne, real1(), errMany)
 
@@ -117,8 +117,8 @@ func TestNewAtTheLimits(t *testing.T) {
 // TestWideSignature: ME2, as many numbers as a signature may have.
 func TestWideSignature(t *testing.T) {
 	list := wide(16)
-	r := &grower{samples.Source(9)}
-	grads, params := r.vectors(list, 0), r.vectors(list, 0)
+	r := growerOf(9)
+	grads, params := r.Moody(list, 0), r.Moody(list, 0)
 	for _, text := range []string{"chain(clip_by_global_norm(1.0), scale_by_adam())", "chain(centralize(), normalize_by_update_norm())"} {
 		x := typed(t, text, list)
 		m, w := machine(t, x, list), wordsOf(x, list)
@@ -129,7 +129,7 @@ func TestWideSignature(t *testing.T) {
 
 // TestNewIsFirst: ME1 and rule 4, machines made of the same program go the same way, whatever another one did.
 func TestNewIsFirst(t *testing.T) {
-	r := &grower{samples.Source(10)}
+	r := growerOf(10)
 	for _, text := range keepers() {
 		x := typed(t, text, mixed())
 		holdSteps(t, r, x, mixed(), 5)
