@@ -51,22 +51,8 @@ func vectorType(param int) api.Type { return api.Type{Kind: 3, Param: param} }
 
 func read(text string) []api.Inst { return samples.Read(text) }
 
-// usual is code over three parameters, w real of three elements, z complex of two, u real of one. Its registers: 0 to 3 numbers, 4 to 7
-// whole numbers, 8 to 11 vectors of w, 12 to 15 of z, 16 and 17 of u. Its slots, from 0 on with Keep, from 5 on without: a number, a whole
-// number, a vector of w, of z, of u.
-func usual(text string) api.Code {
-	c := api.Code{Sign: []api.Param{{Name: "w", Kind: 1, Len: 3}, {Name: "z", Kind: 2, Len: 2}, {Name: "u", Kind: 1, Len: 1}}, List: read(text)}
-	for _, t := range []api.Type{numberType(), wholeType(), vectorType(0), vectorType(1), vectorType(2)} {
-		for range 4 - t.Param/2*2 {
-			c.Regs = append(c.Regs, t)
-		}
-	}
-	c.Slots = []api.Slot{
-		{Type: numberType(), Keep: true}, {Type: wholeType(), Keep: true}, {Type: vectorType(0), Keep: true}, {Type: vectorType(1), Keep: true}, {Type: vectorType(2), Keep: true},
-		{Type: numberType(), Bits: minus}, {Type: wholeType(), Int: 9}, {Type: vectorType(0), Bits: nan}, {Type: vectorType(1), Bits: 0xff800000}, {Type: vectorType(2), Bits: two},
-	}
-	return c
-}
+// usual is the usual code with these instructions.
+func usual(text string) api.Code { return samples.Usual(text) }
 
 // usualGrads and usualParams fit the usual code's signature.
 func usualGrads() [][]api.F { return [][]api.F{{one, two, three}, {four, half, five, minus}, {six}} }

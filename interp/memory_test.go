@@ -7,32 +7,16 @@ import (
 	"testing"
 
 	"lathe/api"
+	"lathe/ir"
 	"lathe/samples"
 )
 
-// roomy is the list in memory of its own, with something in the spare room behind it.
-func roomy[T any](list []T, room ...T) []T {
-	return append(slices.Clone(list), room...)[:len(list)]
-}
-
-func roomyCode(c api.Code) api.Code {
-	return api.Code{
-		Sign: roomy(c.Sign, api.Param{Name: "w", Kind: 9}), Regs: roomy(c.Regs, api.Type{Kind: 9}, numberType()),
-		Slots: roomy(c.Slots, api.Slot{Int: -1}), List: roomy(c.List, api.Inst{Op: 99}, api.Inst{Op: api.OpEnd}),
-	}
-}
-
 func roomyVectors(list [][]api.F) [][]api.F {
-	out := roomy(list, []api.F{7})
+	out := samples.Roomy(list, []api.F{7})
 	for i := range out {
-		out[i] = roomy(out[i], 7, nan)
+		out[i] = samples.Roomy(out[i], 7, nan)
 	}
 	return out
-}
-
-// openedCode is a code as a text, its spare room too.
-func openedCode(c api.Code) string {
-	return fmt.Sprint(c, c.Sign[:cap(c.Sign)], c.Regs[:cap(c.Regs)], c.Slots[:cap(c.Slots)], c.List[:cap(c.List)])
 }
 
 // openedVectors are vectors as a text, their spare room too.
@@ -42,14 +26,6 @@ func openedVectors(list [][]api.F) string {
 		text += fmt.Sprint(v[:cap(v)])
 	}
 	return text
-}
-
-// ruin writes over all that a code has.
-func ruin(c api.Code) {
-	clear(c.Sign[:cap(c.Sign)])
-	clear(c.Regs[:cap(c.Regs)])
-	clear(c.Slots[:cap(c.Slots)])
-	clear(c.List[:cap(c.List)])
 }
 
 // ruinList writes over a list, its spare room too.
@@ -72,15 +48,15 @@ func TestCodeStays(t *testing.T) {
 	g := &samples.Grower{Source: 31}
 	for range 1500 {
 		c := g.Code(50)
-		handed := roomyCode(c)
-		before := openedCode(handed)
+		handed := samples.RoomyCode(c)
+		before := samples.OpenedCode(handed)
 		r, w := begin(t, handed), wordsOf(c)
 		holdStep(t, r, w, g.Vectors(c.Sign), g.Vectors(c.Sign))
-		if openedCode(handed) != before {
+		if !ir.Equal(samples.OpenedCode(handed), before) {
 			t.Errorf("%s was changed", samples.Show(c))
 		}
 		other, v := r.Clone(), w.clone()
-		ruin(handed)
+		samples.RuinCode(handed)
 		for range 3 {
 			holdStep(t, r, w, g.Vectors(c.Sign), g.Vectors(c.Sign))
 			holdStep(t, other, v, g.Vectors(c.Sign), g.Vectors(c.Sign))

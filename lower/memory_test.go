@@ -8,15 +8,11 @@ import (
 
 	"lathe/api"
 	"lathe/ir"
+	"lathe/samples"
 )
 
-// roomy is the list in memory of its own, with something in the spare room behind it.
-func roomy[T any](list []T, room ...T) []T {
-	return append(slices.Clone(list), room...)[:len(list)]
-}
-
 func roomySched(s api.Sched) api.Sched {
-	s.Nums, s.Ints, s.Kids = roomy(s.Nums, inf, 8), roomy(s.Ints, -7, 8), roomy(s.Kids, api.Sched{Op: 99})
+	s.Nums, s.Ints, s.Kids = samples.Roomy(s.Nums, inf, 8), samples.Roomy(s.Ints, -7, 8), samples.Roomy(s.Kids, api.Sched{Op: 99})
 	for i := range s.Kids {
 		s.Kids[i] = roomySched(s.Kids[i])
 	}
@@ -24,9 +20,9 @@ func roomySched(s api.Sched) api.Sched {
 }
 
 func roomyTx(x api.Tx) api.Tx {
-	x.Nums, x.Ints, x.Masks, x.Kids = roomy(x.Nums, inf, 8), roomy(x.Ints, -7, 8), roomy(x.Masks, []int{9}), roomy(x.Kids, api.Tx{Op: 99})
+	x.Nums, x.Ints, x.Masks, x.Kids = samples.Roomy(x.Nums, inf, 8), samples.Roomy(x.Ints, -7, 8), samples.Roomy(x.Masks, []int{9}), samples.Roomy(x.Kids, api.Tx{Op: 99})
 	for i := range x.Masks {
-		x.Masks[i] = roomy(x.Masks[i], 17)
+		x.Masks[i] = samples.Roomy(x.Masks[i], 17)
 	}
 	for i := range x.Kids {
 		x.Kids[i] = roomyTx(x.Kids[i])
@@ -58,27 +54,6 @@ func openedSched(s api.Sched) string {
 	return text
 }
 
-// ruin writes over all that a code has, spare room too.
-func ruin(c api.Code) {
-	for i := range opened(c.Sign) {
-		opened(c.Sign)[i] = api.Param{Name: "ruin", Kind: 9, Len: -1}
-	}
-	for i := range opened(c.Regs) {
-		opened(c.Regs)[i] = api.Type{Kind: 77, Param: 77}
-	}
-	for i := range opened(c.Slots) {
-		opened(c.Slots)[i] = api.Slot{Bits: 0xdeadbeef, Int: -7}
-	}
-	for i := range opened(c.List) {
-		opened(c.List)[i] = api.Inst{Op: -7, D: -7, A: -7, B: -7, C: -7, N: -7, Bits: 0xdeadbeef}
-	}
-}
-
-// clonedCode is code in memory of its own.
-func clonedCode(c api.Code) api.Code {
-	return api.Code{Sign: slices.Clone(c.Sign), Regs: slices.Clone(c.Regs), Slots: slices.Clone(c.Slots), List: slices.Clone(c.List)}
-}
-
 // TestArgumentsStay: rule 3, neither call changes what it is given, nor what stands in its spare room; a code is its caller's: whatever
 // becomes of it is seen neither in the arguments nor in another code.
 func TestArgumentsStay(t *testing.T) {
@@ -86,16 +61,16 @@ func TestArgumentsStay(t *testing.T) {
 	for range 800 {
 		list := append(g.Params(4), api.Param{Name: "x", Kind: 1, Len: 2})
 		x := g.valid(1+g.Below(4), list)
-		handed, names := roomyTx(x), roomy(list, api.Param{Name: "spare", Kind: 9})
+		handed, names := roomyTx(x), samples.Roomy(list, api.Param{Name: "spare", Kind: 9})
 		ahead, aheadNames := openedTx(handed), fmt.Sprint(opened(names))
 		w, e := Weight(handed, names)
 		c, f := Lower(handed, names)
 		if e != api.OK || f != api.OK {
 			t.Fatalf("%d, %d", e, f)
 		}
-		want := clonedCode(c)
+		want := samples.CloneCode(c)
 		other, _ := Lower(handed, names)
-		ruin(c)
+		samples.RuinCode(c)
 		if openedTx(handed) != ahead || fmt.Sprint(opened(names)) != aheadNames {
 			t.Fatalf("another program or signature: %s over %v", brief(handed), names)
 		}
@@ -116,7 +91,7 @@ func TestCodeStays(t *testing.T) {
 		list := append(g.Params(4), api.Param{Name: "x", Kind: 1, Len: 2})
 		handed, names := roomyTx(g.valid(1+g.Below(4), list)), slices.Clone(list)
 		c := coded(t, handed, names)
-		want := clonedCode(c)
+		want := samples.CloneCode(c)
 		clear(names)
 		walk(handed, func(x api.Tx) {
 			clear(x.Nums)
@@ -135,9 +110,9 @@ func TestCodeStays(t *testing.T) {
 
 // TestListsApart: rule 3, what is put to a list of a code, or to the signature, is seen in no other.
 func TestListsApart(t *testing.T) {
-	list := roomy(mixed(), api.Param{Name: "spare", Kind: 1, Len: 7})
+	list := samples.Roomy(mixed(), api.Param{Name: "spare", Kind: 1, Len: 7})
 	c := coded(t, typed(t, "chain(trace(0.5), ema(0.5))", mixed()), list)
-	want := clonedCode(c)
+	want := samples.CloneCode(c)
 	_ = append(c.Sign, api.Param{Name: "more"})
 	_ = append(c.Regs, api.Type{Kind: 77})
 	_ = append(c.Slots, api.Slot{Int: 77})

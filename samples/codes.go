@@ -73,7 +73,7 @@ func readField(i *api.Inst, word string) bool {
 func Show(c api.Code) string {
 	var list, params, regs, slots []string
 	for _, i := range c.List[:min(len(c.List), 60)] {
-		list = append(list, showInst(i))
+		list = append(list, ShowInst(i))
 	}
 	for _, p := range c.Sign[:min(len(c.Sign), 5)] {
 		params = append(params, p.Name+" "+showNumbers(p.Kind, p.Len))
@@ -88,7 +88,8 @@ func Show(c api.Code) string {
 		showList(len(c.Regs), "registers", regs) + ", " + showList(len(c.Slots), "slots", slots)
 }
 
-func showInst(i api.Inst) string {
+// ShowInst is an instruction as a text that Read reads, if its Op is one.
+func ShowInst(i api.Inst) string {
 	text := "?" + strconv.Itoa(i.Op)
 	if i.Op >= 1 && i.Op <= len(Names()) {
 		text = Names()[i.Op-1]

@@ -86,31 +86,62 @@ func (g *Grower) slot(params int) api.Slot {
 
 // Code has at most so many instructions, and a few more that end blocks and hand out what the registers hold at the end.
 func (g *Grower) Code(most int) api.Code {
-	c := api.Code{Sign: g.Signature()}
+	grows := &growth{Grower: g, code: api.Code{Sign: g.Signature()}}
 	for range 1 + g.Below(14) {
-		c.Regs = append(c.Regs, g.typed(len(c.Sign)))
+		grows.newRegister(g.typed(len(grows.code.Sign)))
 	}
-	for range g.Below(8) {
-		c.Slots = append(c.Slots, g.slot(len(c.Sign)))
+	return grows.grown(most)
+}
+
+// SingleCode is such a code in which no register is the D of two instructions.
+func (g *Grower) SingleCode(most int) api.Code {
+	grows := &growth{Grower: g, code: api.Code{Sign: g.Signature()}, isSingle: true}
+	return grows.grown(most)
+}
+
+// IsSingle tells whether no register is the D of two instructions.
+func IsSingle(c api.Code) bool {
+	isSet := make([]bool, len(c.Regs))
+	for _, i := range c.List {
+		if rows[i.Op][0] == '-' {
+			continue
+		}
+		if isSet[i.D] {
+			return false
+		}
+		isSet[i.D] = true
 	}
-	grows := &growth{Grower: g, code: c}
-	count := g.Below(most + 1)
-	for tries := 0; len(grows.code.List) < count && tries < 20*most; tries++ {
-		grows.try()
-	}
-	for len(grows.open) > 0 {
-		grows.leave()
-	}
-	grows.handOut()
-	return grows.code
+	return true
 }
 
 // A growth is a code on its way.
 type growth struct {
 	*Grower
-	code api.Code
-	set  []int // the registers that are set here, in the order in which they were
-	open []openBlock
+	code     api.Code
+	isSingle bool  // each instruction has a new register to set
+	set      []int // the registers that are set here, in the order in which they were
+	open     []openBlock
+}
+
+// grown is the code with slots and instructions.
+func (g *growth) grown(most int) api.Code {
+	for range g.Below(8) {
+		g.code.Slots = append(g.code.Slots, g.slot(len(g.code.Sign)))
+	}
+	count := g.Below(most + 1)
+	for tries := 0; len(g.code.List) < count && tries < 20*most; tries++ {
+		g.try()
+	}
+	for len(g.open) > 0 {
+		g.leave()
+	}
+	g.handOut()
+	return g.code
+}
+
+func (g *growth) newRegister(t api.Type) int {
+	g.code.Regs = append(g.code.Regs, t)
+	return len(g.code.Regs) - 1
 }
 
 type openBlock struct {
@@ -149,8 +180,11 @@ func (g *growth) try() {
 		}
 	case isLooped && !strings.ContainsAny(rows[op], "xps"): // none of those that work on vectors
 	default:
+		registers := len(g.code.Regs)
 		if i, ok := g.instruction(op, loop, isLooped); ok {
 			g.put(i)
+		} else {
+			g.code.Regs = g.code.Regs[:registers]
 		}
 	}
 }
@@ -203,9 +237,12 @@ func (g *growth) instruction(op int, loop api.Type, isLooped bool) (api.Inst, bo
 		return g.rest(i, letters[3], api.Type{})
 	}
 	ok := false
-	*places[0], ok = g.choose(op != api.OpOut && op != api.OpStore && op != api.OpWhen, func(t api.Type) bool {
-		return means(lead, t, t) && (!isLooped || t == loop)
-	})
+	will := func(t api.Type) bool { return means(lead, t, t) && (!isLooped || t == loop) }
+	if isSetting := rows[op][0] != '-'; isSetting && g.isSingle {
+		*places[0], ok = g.fresh(will)
+	} else {
+		*places[0], ok = g.choose(isSetting, will)
+	}
 	if !ok {
 		return i, false
 	}
@@ -251,6 +288,19 @@ func (g *growth) choose(all bool, will func(t api.Type) bool) (int, bool) {
 		return 0, false
 	}
 	return list[g.Below(len(list))], true
+}
+
+// fresh is a new register of a type that will do.
+func (g *growth) fresh(will func(t api.Type) bool) (int, bool) {
+	list := []api.Type{{Kind: api.TypeNumber}, {Kind: api.TypeWhole}}
+	for param := range g.code.Sign {
+		list = append(list, api.Type{Kind: api.TypeVector, Param: param})
+	}
+	list = slices.DeleteFunc(list, func(t api.Type) bool { return !will(t) })
+	if len(list) == 0 {
+		return 0, false
+	}
+	return g.newRegister(list[g.Below(len(list))]), true
 }
 
 // rest is the instruction with N or Bits.
