@@ -4,6 +4,7 @@ import (
 	"slices"
 	"testing"
 
+	"lathe/alike"
 	"lathe/api"
 	"lathe/interp"
 	"lathe/ir"
@@ -104,31 +105,11 @@ func stepped(t *testing.T, r *interp.Run, grads, params [][]api.F) [][]api.F {
 	return u
 }
 
-func same(a, b [][]api.F) bool {
-	return slices.EqualFunc(a, b, func(v, w []api.F) bool { return slices.Equal(v, w) })
-}
-
 // holdMeaning: FO2, two codes make the same updates, and leave the same in the slots with Keep, step after step.
 func holdMeaning(t *testing.T, g *samples.Grower, c, d api.Code, steps int) {
 	t.Helper()
-	a, b := running(t, c), running(t, d)
-	for step := range steps {
-		mood := g.Below(samples.Moods + 1)
-		grads, params := g.Vectors(c.Sign), g.Vectors(c.Sign)
-		if mood < samples.Moods {
-			grads, params = g.Moody(c.Sign, mood), g.Moody(c.Sign, mood)
-		}
-		u, v := stepped(t, a, grads, params), stepped(t, b, grads, params)
-		if !same(u, v) {
-			t.Fatalf("step %d: updates %08x, want %08x: %s became %s", step, v, u, samples.Show(c), samples.Show(d))
-		}
-		for n, s := range c.Slots {
-			x, i, _ := a.Slot(n)
-			y, j, _ := b.Slot(n)
-			if s.Keep && (!slices.Equal(x, y) || i != j) {
-				t.Fatalf("step %d: slot %d: %08x %d, want %08x %d: %s became %s", step, n, y, j, x, i, samples.Show(c), samples.Show(d))
-			}
-		}
+	if unlike := alike.Difference(g, c, d, steps, alike.Kept); unlike != "" {
+		t.Fatal(unlike)
 	}
 }
 

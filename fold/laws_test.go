@@ -13,16 +13,8 @@ import (
 // changes counts what folding did to codes, so that a test can tell whether it saw enough.
 type changes struct{ codes, constants, copies, blocks, marks, stayed int }
 
-func opsOf(c api.Code) map[int]int {
-	count := map[int]int{}
-	for _, i := range c.List {
-		count[i.Op]++
-	}
-	return count
-}
-
 func (n *changes) take(c, d api.Code) {
-	a, b := opsOf(c), opsOf(d)
+	a, b := samples.Counts(c), samples.Counts(d)
 	n.codes++
 	if b[1]+b[2] > a[1]+a[2] {
 		n.constants++

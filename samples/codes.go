@@ -69,6 +69,15 @@ func readField(i *api.Inst, word string) bool {
 	return true
 }
 
+// Counts is how many instructions there are of each Op.
+func Counts(c api.Code) map[int]int {
+	count := map[int]int{}
+	for _, i := range c.List {
+		count[i.Op]++
+	}
+	return count
+}
+
 // Show is code as a text, of a long one the beginning.
 func Show(c api.Code) string {
 	var list, params, regs, slots []string
