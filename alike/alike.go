@@ -10,22 +10,33 @@ import (
 	"lathe/samples"
 )
 
-// Every and Kept are which slots are asked what they hold: all, or those with Keep.
-func Every(api.Slot) bool { return true }
+// A Both is a slot of the first code, and the one of the other code that is to hold the same.
+type Both struct{ First, Other int }
+
+// Every and Kept are which slots of a code are asked what they hold: all, or those with Keep. In the other code they have the same numbers.
+func Every(c api.Code) []Both {
+	var list []Both
+	for n := range c.Slots {
+		list = append(list, Both{n, n})
+	}
+	return list
+}
 
 // Kept: see Every.
-func Kept(s api.Slot) bool { return s.Keep }
+func Kept(c api.Code) []Both {
+	return slices.DeleteFunc(Every(c), func(b Both) bool { return !c.Slots[b.First].Keep })
+}
 
-// A Pair is two codes at work. The first one's slots stand at the beginning of the other one's too, if any are asked.
+// A Pair is two codes at work.
 type Pair struct {
 	codes [2]api.Code
 	runs  [2]*interp.Run
-	asked func(s api.Slot) bool
+	asked []Both
 	steps int
 }
 
 // New begins with both; or it tells what is wrong.
-func New(c, d api.Code, asked func(s api.Slot) bool) (*Pair, string) {
+func New(c, d api.Code, asked []Both) (*Pair, string) {
 	p := &Pair{codes: [2]api.Code{c, d}, asked: asked}
 	for n := range p.codes {
 		run, e := interp.New(p.codes[n])
@@ -51,18 +62,18 @@ func (p *Pair) Step(grads, params [][]api.F) string {
 	if !slices.EqualFunc(updates[0], updates[1], slices.Equal[[]api.F]) {
 		return "updates" + p.which()
 	}
-	for n, s := range p.codes[0].Slots {
-		if p.asked(s) && !p.holdSame(n) {
-			return "slot " + strconv.Itoa(n) + p.which()
+	for _, b := range p.asked {
+		if !p.holdSame(b) {
+			return "slot " + strconv.Itoa(b.First) + p.which()
 		}
 	}
 	return ""
 }
 
-// holdSame tells whether a slot holds the same in both.
-func (p *Pair) holdSame(n int) bool {
-	x, i, e := p.runs[0].Slot(n)
-	y, j, f := p.runs[1].Slot(n)
+// holdSame tells whether a slot holds in one what it holds in the other.
+func (p *Pair) holdSame(b Both) bool {
+	x, i, e := p.runs[0].Slot(b.First)
+	y, j, f := p.runs[1].Slot(b.Other)
 	return slices.Equal(x, y) && i == j && e == api.OK && f == api.OK
 }
 
@@ -71,7 +82,7 @@ func (p *Pair) which() string {
 }
 
 // Difference is what is unlike in so many steps of two codes, with gradients and parameters from all over; empty, if there is nothing.
-func Difference(g *samples.Grower, c, d api.Code, steps int, asked func(s api.Slot) bool) string {
+func Difference(g *samples.Grower, c, d api.Code, steps int, asked []Both) string {
 	p, wrong := New(c, d, asked)
 	for range steps {
 		if wrong != "" {
@@ -87,25 +98,46 @@ func Difference(g *samples.Grower, c, d api.Code, steps int, asked func(s api.Sl
 	return wrong
 }
 
-// Primed is the code with instructions ahead of it that make each kept slot hold something else: a vector's is a parameter that comes
-// in. Two codes with the same slots are primed alike, as the grower is a copy.
-func Primed(g samples.Grower, c api.Code) api.Code {
+// Primed is both codes with instructions ahead of them that make each kept slot of the first one hold something else, and the slots of the
+// other one that go with those the same: a vector's is a parameter that comes in.
+func Primed(g *samples.Grower, c, d api.Code, asked []Both) (api.Code, api.Code) {
+	values := make([]api.Inst, len(c.Slots))
+	var first, other []int
+	for n, s := range c.Slots {
+		if s.Keep {
+			values[n] = value(g, c.Sign, s.Type)
+			first = append(first, n)
+		}
+	}
+	var same []api.Inst
+	for _, b := range asked {
+		if c.Slots[b.First].Keep {
+			same = append(same, values[b.First])
+			other = append(other, b.Other)
+		}
+	}
+	return primed(c, first, slices.DeleteFunc(values, func(i api.Inst) bool { return i.Op == 0 })), primed(d, other, same)
+}
+
+// value is an instruction that sets a register of that type.
+func value(g *samples.Grower, sign []api.Param, t api.Type) api.Inst {
+	switch t.Kind {
+	case api.TypeNumber:
+		return api.Inst{Op: api.OpNumber, Bits: g.Told()}
+	case api.TypeWhole:
+		return api.Inst{Op: api.OpWhole, N: g.Whole()}
+	}
+	return api.Inst{Op: api.OpParam, N: g.Below(sign[t.Param].Kind)}
+}
+
+// primed is the code with such values in slots ahead of it.
+func primed(c api.Code, slots []int, values []api.Inst) api.Code {
 	c = samples.CloneCode(c)
 	var ahead []api.Inst
-	for n, s := range c.Slots {
-		if !s.Keep {
-			continue
-		}
-		set := api.Inst{Op: api.OpNumber, D: len(c.Regs)}
-		switch s.Type.Kind {
-		case api.TypeNumber:
-			set.Bits = g.Told()
-		case api.TypeWhole:
-			set.Op, set.N = api.OpWhole, g.Whole()
-		default:
-			set.Op, set.N = api.OpParam, g.Below(c.Sign[s.Type.Param].Kind)
-		}
-		c.Regs = append(c.Regs, s.Type)
+	for k, n := range slots {
+		set := values[k]
+		set.D = len(c.Regs)
+		c.Regs = append(c.Regs, c.Slots[n].Type)
 		ahead = append(ahead, set, api.Inst{Op: api.OpStore, A: set.D, N: n})
 	}
 	c.List = append(ahead, c.List...)

@@ -22,8 +22,8 @@ func TestDifference(t *testing.T) {
 		{"Grad D16; Store A16 N9", "Grad D16; Neg D16 A16; Store A16 N9", "slot 9, step ", ""},
 	} {
 		g := &samples.Grower{Source: 5}
-		every := Difference(g, samples.Usual(c.a), samples.Usual(c.b), 8, Every)
-		kept := Difference(g, samples.Usual(c.a), samples.Usual(c.b), 8, Kept)
+		a, b := samples.Usual(c.a), samples.Usual(c.b)
+		every, kept := Difference(g, a, b, 8, Every(a)), Difference(g, a, b, 8, Kept(a))
 		if !isOf(every, c.every) || !isOf(kept, c.kept) {
 			t.Errorf("%s, %s: %q, %q", c.a, c.b, every, kept)
 		}
@@ -35,20 +35,47 @@ func isOf(text, begin string) bool {
 	return strings.HasPrefix(text, begin) && (begin == "") == (text == "")
 }
 
-// TestPrimed: each kept slot holds something else ahead of the code, the same for two codes, and no other does.
+// TestApart: slots of other numbers are held against each other, and no others.
+func TestApart(t *testing.T) {
+	c, d := samples.Usual("Grad D8; Store A8 N2; Store A8 N7"), samples.Usual("Grad D8; Store A8 N7")
+	d.Slots[5] = api.Slot{Type: api.Type{Kind: 2}, Keep: true}
+	for _, x := range []struct {
+		asked []Both
+		want  string
+	}{
+		{nil, ""}, {[]Both{{2, 7}, {1, 5}, {7, 7}}, ""}, {[]Both{{1, 1}, {2, 2}}, "slot 2, step 1"}, {[]Both{{0, 0}, {0, 5}}, "slot 0, step 1"}, {[]Both{{3, 10}}, "slot 3, step 1"},
+	} {
+		if unlike := Difference(&samples.Grower{Source: 6}, c, d, 1, x.asked); !isOf(unlike, x.want) {
+			t.Errorf("%v: %q", x.asked, unlike)
+		}
+	}
+}
+
+// TestPrimed: each kept slot of the first code holds something else ahead of it, and no other does; those of the other code that go with
+// them hold the same, and no others.
 func TestPrimed(t *testing.T) {
-	g := samples.Grower{Source: 7}
+	g := &samples.Grower{Source: 10}
 	c, d := samples.Usual("Load D4 N1; Inc D4 A4; Store A4 N1"), samples.Usual("")
-	if unlike := Difference(&samples.Grower{Source: 8}, Primed(g, d), Primed(g, d), 3, Every); unlike != "" {
+	a, b := Primed(g, d, d, Every(d))
+	if unlike := Difference(&samples.Grower{Source: 8}, a, b, 3, Every(d)); unlike != "" {
 		t.Error(unlike)
 	}
-	if unlike := Difference(&samples.Grower{Source: 8}, Primed(g, c), Primed(g, d), 3, Every); !isOf(unlike, "slot 1, step 1") {
+	a, b = Primed(g, c, d, Every(d))
+	if unlike := Difference(&samples.Grower{Source: 8}, a, b, 3, Every(d)); !isOf(unlike, "slot 1, step 1") {
 		t.Errorf("%q", unlike)
 	}
 	for n, s := range d.Slots {
-		only := func(other api.Slot) bool { return other == s }
-		if unlike := Difference(&samples.Grower{Source: 9}, Primed(g, d), d, 1, only); isOf(unlike, "") == s.Keep {
+		only := []Both{{n, n}}
+		if unlike := Difference(&samples.Grower{Source: 9}, a, d, 1, only); n != 1 && isOf(unlike, "") == s.Keep {
 			t.Errorf("slot %d: %q", n, unlike)
 		}
+	}
+	turned := []Both{{1, 6}, {2, 7}, {5, 0}, {9, 4}}
+	a, b = Primed(g, d, d, turned)
+	if unlike := Difference(&samples.Grower{Source: 9}, a, b, 2, turned[:2]); unlike != "" {
+		t.Error(unlike)
+	}
+	if unlike := Difference(&samples.Grower{Source: 9}, d, b, 2, []Both{{0, 0}, {1, 1}, {2, 2}, {3, 3}, {4, 4}}); unlike != "" {
+		t.Error(unlike)
 	}
 }

@@ -108,7 +108,7 @@ func stepped(t *testing.T, r *interp.Run, grads, params [][]api.F) [][]api.F {
 // holdMeaning: FO2, two codes make the same updates, and leave the same in the slots with Keep, step after step.
 func holdMeaning(t *testing.T, g *samples.Grower, c, d api.Code, steps int) {
 	t.Helper()
-	if unlike := alike.Difference(g, c, d, steps, alike.Kept); unlike != "" {
+	if unlike := alike.Difference(g, c, d, steps, alike.Kept(c)); unlike != "" {
 		t.Fatal(unlike)
 	}
 }

@@ -30,7 +30,7 @@ func TestEveryEdge(t *testing.T) {
 		if count := samples.Counts(d); count[3] > 0 || len(d.List) > 11 {
 			t.Errorf("%s became %s", text, listed(d.List))
 		}
-		p, wrong := alike.New(c, d, alike.Every)
+		p, wrong := alike.New(c, d, alike.Every(c))
 		for turn := range edges {
 			if wrong != "" {
 				t.Fatal(wrong)
