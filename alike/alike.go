@@ -98,6 +98,27 @@ func Difference(g *samples.Grower, c, d api.Code, steps int, asked []Both) strin
 	return wrong
 }
 
+// Throughout is what is unlike in so many steps; and in a step whatever the kept slots hold at its beginning, if there is room for the
+// instructions that set them; empty, if there is nothing.
+func Throughout(g *samples.Grower, c, d api.Code, steps int, asked []Both) string {
+	unlike := Difference(g, c, d, steps, asked)
+	if !hasRoom(c) || !hasRoom(d) {
+		return unlike
+	}
+	for range 2 {
+		if unlike == "" {
+			a, b := Primed(g, c, d, asked)
+			unlike = Difference(g, a, b, 1, asked)
+		}
+	}
+	return unlike
+}
+
+// hasRoom tells whether code that is primed is within the limits.
+func hasRoom(c api.Code) bool {
+	return len(c.Regs)+len(c.Slots) <= api.MaxRegs && len(c.List)+2*len(c.Slots) <= api.MaxCode
+}
+
 // Primed is both codes with instructions ahead of them that make each kept slot of the first one hold something else, and the slots of the
 // other one that go with those the same: a vector's is a parameter that comes in.
 func Primed(g *samples.Grower, c, d api.Code, asked []Both) (api.Code, api.Code) {

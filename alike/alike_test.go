@@ -79,3 +79,23 @@ func TestPrimed(t *testing.T) {
 		t.Error(unlike)
 	}
 }
+
+// TestThroughout: what is unlike only where a kept slot holds something else at the beginning is told, if there is room to make it so; and
+// so is what is unlike without that.
+func TestThroughout(t *testing.T) {
+	loads, sets := "Load D0; Copy D8 A0; Out A8", "Number D0; Copy D8 A0; Out A8"
+	long := strings.Repeat("Number D1;", api.MaxCode-len(samples.Read(loads))-10)
+	for _, x := range []struct{ a, b, want string }{
+		{loads, loads, ""}, {loads, sets, "updates, step 1"}, {sets, loads, "updates, step 1"}, {loads + ";" + long, sets + ";" + long, ""}, {loads, sets + ";" + long, ""}, {loads + ";" + long, sets, ""},
+		{"Whole D4; Store A4 N6", "", "slot 6, step 1"}, {"Whole D4; Store A4 N6;" + long, long, "slot 6, step 1"},
+	} {
+		c, d := samples.Usual(x.a), samples.Usual(x.b)
+		if unlike := Throughout(&samples.Grower{Source: 11}, c, d, 2, Every(c)); !isOf(unlike, x.want) {
+			t.Errorf("%.60s, %.60s: %.100q", x.a, x.b, unlike)
+		}
+	}
+	c := samples.Usual(loads)
+	if unlike := Difference(&samples.Grower{Source: 11}, c, samples.Usual(sets), 2, Every(c)); unlike != "" {
+		t.Error(unlike)
+	}
+}

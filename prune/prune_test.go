@@ -88,17 +88,8 @@ func keptUnloaded(c api.Code) int {
 // slots hold at its beginning.
 func holdMeaning(t *testing.T, g *samples.Grower, c, d api.Code, slots []alike.Both, steps int) {
 	t.Helper()
-	if unlike := alike.Difference(g, c, d, steps, slots); unlike != "" {
+	if unlike := alike.Throughout(g, c, d, steps, slots); unlike != "" {
 		t.Fatal(unlike)
-	}
-	if len(c.Regs)+len(c.Slots) > maxRegs || len(c.List)+2*len(c.Slots) > maxCode {
-		return // there is no room
-	}
-	for range 2 {
-		a, b := alike.Primed(g, c, d, slots)
-		if unlike := alike.Difference(g, a, b, 1, slots); unlike != "" {
-			t.Fatal(unlike)
-		}
 	}
 }
 

@@ -95,17 +95,8 @@ func holdSingle(t *testing.T, d api.Code) {
 // slots hold at its beginning.
 func holdMeaning(t *testing.T, g *samples.Grower, c, d api.Code, steps int) {
 	t.Helper()
-	if unlike := alike.Difference(g, c, d, steps, alike.Every(c)); unlike != "" {
+	if unlike := alike.Throughout(g, c, d, steps, alike.Every(c)); unlike != "" {
 		t.Fatal(unlike)
-	}
-	if len(c.Regs)+len(c.Slots) > maxRegs || len(c.List)+2*len(c.Slots) > maxCode {
-		return // there is no room
-	}
-	for range 2 {
-		a, b := alike.Primed(g, c, d, alike.Every(c))
-		if unlike := alike.Difference(g, a, b, 1, alike.Every(c)); unlike != "" {
-			t.Fatal(unlike)
-		}
 	}
 }
 
