@@ -20,3 +20,11 @@ func Usual(text string) api.Code {
 	}
 	return c
 }
+
+// EveryOp is such code with an instruction of each Op.
+func EveryOp() api.Code {
+	return Usual(`Number D0 =3f000000; Whole D4 N300; Copy D1 A0; Add D1 A0 B1; Sub D2 A1 B0; Mul D2 A2 B1; Div D3 A2 B1; Min D3 A3 B2; Max D3 A2 B3; Less D2 A3 B1;
+		Sqrt D2 A2; Neg D1 A2; Abs D1 A1; Finite D0 A1; Select D1 A0 B2 C3; Power D2 A1 B4; From D3 A4; Test D5 A3; Grad D8; Sum D2 A8; Least D3 A8; Inc D5 A5;
+		Less2 D6 A5 B4; Same D6 A4 B5; And D7 A6 B5; Not D7 A7; Choose D4 A7 B5 C6; Minus D5 A4 B6; Over D6 A5 B4; Param D12 N1; Out A12 N1; Load D9 N2; Store A9 N7;
+		When A7; Loop N1; Neg D13 A12; Out A13; Next; End`)
+}
