@@ -12,7 +12,7 @@ import (
 )
 
 // named are the fields that the row of each Op names, of Op 1 the first; '=' is Bits.
-var named = strings.Fields("D= DN DA DAB DAB DAB DAB DAB DAB DAB DA DA DA DA DABC DAB DA DA DA DA DA DAB DAB DAB DA DABC DAB DAB DN DN AN DN AN A - N -")
+var named = samples.Fields()
 
 // wantBytes is bytecode by the chapter's words, of code that may also be at fault, if only its numbers are from 0 on and what has a byte to
 // itself is one.

@@ -13,6 +13,11 @@ func Names() []string {
 	return strings.Fields("Number Whole Copy Add Sub Mul Div Min Max Less Sqrt Neg Abs Finite Select Power From Test Sum Least Inc Less2 Same And Not Choose Minus Over Grad Param Out Load Store When End Loop Next")
 }
 
+// Fields are the fields that the row of each Op names, of Op 1 the first; '=' is Bits.
+func Fields() []string {
+	return strings.Fields("D= DN DA DAB DAB DAB DAB DAB DAB DAB DA DA DA DA DABC DAB DA DA DA DA DA DAB DAB DAB DA DABC DAB DAB DN DN AN DN AN A - N -")
+}
+
 // Field is the field of an instruction that a letter names, '?' its Op; nil, if there is none.
 func Field(i *api.Inst, letter byte) *int {
 	switch letter {
