@@ -1,4 +1,5 @@
-// Package alike tells the passes' tests whether two codes mean the same: the interpreter runs them side by side. Nothing but tests calls it.
+// Package alike tells the passes' tests whether two codes mean the same: the interpreter runs them side by side. It also watches what a step
+// of one code does. Nothing but tests calls it.
 package alike
 
 import (

@@ -9,28 +9,11 @@ import (
 	"lathe/samples"
 )
 
-// costs are the chapter's table, of Op 1 the first: a number, or the register whose width it is.
-func costs() []string {
-	return strings.Fields("1 1 D D D D D D D D D D D D D 62 1 1 A A 1 1 1 1 1 1 1 1 D D A D A 1 1 1 1")
-}
+// wantWidth is the width of a type over a signature.
+func wantWidth(is api.Type, sign []api.Param) int { return samples.Width(is, sign) }
 
-// wantWidth is the width of a type over a signature, by the chapter's words.
-func wantWidth(is api.Type, sign []api.Param) int {
-	return []int{1: 1, 2: 1, 3: append(sign, api.Param{})[is.Param].Len}[is.Kind]
-}
-
-// wantWeigh is what an instruction costs, by the chapter's table.
-func wantWeigh(c api.Code, i api.Inst) int {
-	switch costs()[i.Op-1] {
-	case "1":
-		return 1
-	case "62":
-		return 62
-	case "D":
-		return wantWidth(c.Regs[i.D], c.Sign)
-	}
-	return wantWidth(c.Regs[i.A], c.Sign)
-}
+// wantWeigh is what an instruction costs.
+func wantWeigh(c api.Code, i api.Inst) int { return samples.Cost(c, i) }
 
 func wantCost(c api.Code) int {
 	cost := 0
@@ -83,10 +66,10 @@ func hold(t *testing.T, c api.Code) bool {
 
 // TestTable: what the tests are led by has a word for each Op.
 func TestTable(t *testing.T) {
-	if len(costs()) != 37 || len(samples.Names()) != 37 {
-		t.Fatalf("%d, %d", len(costs()), len(samples.Names()))
+	if len(samples.Costs()) != 37 || len(samples.Names()) != 37 {
+		t.Fatalf("%d, %d", len(samples.Costs()), len(samples.Names()))
 	}
-	for n, word := range costs() {
+	for n, word := range samples.Costs() {
 		if word == "D" != (ir.Elementwise(n+1) || strings.Contains(" Grad Param Load ", " "+samples.Names()[n]+" ")) {
 			t.Errorf("%s costs %s", samples.Names()[n], word)
 		}

@@ -4,67 +4,29 @@ import (
 	"slices"
 	"testing"
 
+	"lathe/alike"
 	"lathe/api"
 	"lathe/float"
 	"lathe/interp"
 	"lathe/samples"
 )
 
-// marked is the code with one more slot for each instruction, which holds 1 behind a step that did the instruction, else 0. In a loop no
-// whole number may stand; all of it is done where its beginning is, so the marks stand ahead of that.
-func marked(c api.Code) api.Code {
-	d := samples.CloneCode(c)
-	one := len(d.Regs)
-	d.Regs, d.List = append(d.Regs, api.Type{Kind: 2}), nil
-	loop := -1 // where the loop begins that is open
-	for at, i := range c.List {
-		d.Slots = append(d.Slots, api.Slot{Type: api.Type{Kind: 2}})
-		mark := []api.Inst{{Op: 2, D: one, N: 1}, {Op: 33, A: one, N: len(c.Slots) + at}}
-		if loop >= 0 {
-			d.List = slices.Insert(d.List, loop, mark...)
-			loop += len(mark)
-		} else {
-			d.List = append(d.List, mark...)
-		}
-		switch i.Op {
-		case api.OpLoop:
-			loop = len(d.List)
-		case api.OpNext:
-			loop = -1
-		}
-		d.List = append(d.List, i)
-	}
-	return d
-}
-
-// A watch is code at work of which can be told what a step did.
-type watch struct {
-	code api.Code
-	run  *interp.Run
-}
-
-func begin(t *testing.T, c api.Code) watch {
+func begin(t *testing.T, c api.Code) *alike.Watch {
 	t.Helper()
-	run, e := interp.New(marked(c))
-	if e != api.OK {
-		t.Fatalf("interp.New = %d: %s", e, samples.Show(marked(c)))
+	w, wrong := alike.NewWatch(c)
+	if wrong != "" {
+		t.Fatal(wrong)
 	}
-	return watch{c, run}
+	return w
 }
 
-// step is a step: what the instructions that it did cost by the chapter's table.
-func (w watch) step(t *testing.T, grads, params [][]api.F) int {
+// stepped is a step: what the instructions that it did cost by the chapter's table.
+func stepped(t *testing.T, w *alike.Watch, grads, params [][]api.F) int {
 	t.Helper()
-	if _, e := w.run.Step(grads, params); e != api.OK {
-		t.Fatalf("Step = %d: %s", e, samples.Show(w.code))
+	if _, e := w.Step(grads, params); e != api.OK {
+		t.Fatalf("Step = %d", e)
 	}
-	done := 0
-	for at, i := range w.code.List {
-		if _, was, _ := w.run.Slot(len(w.code.Slots) + at); was == 1 {
-			done += wantWeigh(w.code, i)
-		}
-	}
-	return done
+	return w.Spent()
 }
 
 // TestSteps: VE3, no step of the interpreter does more than Cost tells, whatever comes in and whichever blocks are done.
@@ -75,7 +37,7 @@ func TestSteps(t *testing.T) {
 		cost := costOfCode(t, c)
 		w := begin(t, c)
 		for range 3 {
-			switch done := w.step(t, g.Vectors(c.Sign), g.Vectors(c.Sign)); {
+			switch done := stepped(t, w, g.Vectors(c.Sign), g.Vectors(c.Sign)); {
 			case done > cost:
 				t.Fatalf("a step does %d, Cost is %d: %s", done, cost, samples.Show(c))
 			case done < cost:
@@ -103,14 +65,14 @@ func TestStepsByHand(t *testing.T) {
 		"Load D4 N1; Inc D5 A4; Store A5 N1; When A4; Load D9 N2; Store A9 N7; End":     1 + 1 + 1 + 1, // the first step
 	} {
 		c := usual(text)
-		if got := begin(t, c).step(t, grads, grads); got != done || got > costOfCode(t, c) {
+		if got := stepped(t, begin(t, c), grads, grads); got != done || got > costOfCode(t, c) {
 			t.Errorf("a step does %d, want %d, Cost is %d: %s", got, done, costOfCode(t, c), samples.Show(c))
 		}
 	}
 	c := usual("Load D4 N1; Inc D5 A4; Store A5 N1; When A4; Load D9 N2; Store A9 N7; End")
 	w := begin(t, c)
 	for n, done := range []int{4, 11, 11, 11} {
-		if got := w.step(t, grads, grads); got != done || costOfCode(t, c) != 11 {
+		if got := stepped(t, w, grads, grads); got != done || costOfCode(t, c) != 11 {
 			t.Errorf("the step %d does %d, want %d", n, got, done)
 		}
 	}
