@@ -11,7 +11,7 @@ import (
 
 // renew sets a register of a sort anew, by another one.
 func (c *crowd) renew(sort, register, from int) {
-	c.more(sort, from)
+	c.More(sort, from)
 	c.Regs = c.Regs[:len(c.Regs)-1]
 	c.List[len(c.List)-1].D = register
 }
@@ -19,19 +19,19 @@ func (c *crowd) renew(sort, register, from int) {
 // TestRenewed: RA2 and RA3, registers that are set again and again, more than there may be; one behind the other, and by each other.
 func TestRenewed(t *testing.T) {
 	g := &samples.Grower{Source: 16}
-	for sort := range sorts {
+	for sort := range samples.Sorts {
 		for _, count := range counts(sort) {
 			c := newCrowd()
-			list := c.come(sort, count)
+			list := c.Come(sort, count)
 			for range 3 {
 				for k := range list {
 					c.renew(sort, list[k], list[g.Below(count)])
 				}
-				byTurns(list)
+				samples.ByTurns(list)
 			}
-			c.leave(sort, list)
+			c.Leave(sort, list)
 			d := holdUsual(t, c.Code)
-			if slots, _ := added(c.Code, d); (slots > 0) != (count > mostOf(sort)) {
+			if slots, _ := added(c.Code, d); (slots > 0) != (count > samples.MostOf(sort)) {
 				t.Errorf("%d of sort %d: %d slots more", count, sort, slots)
 			}
 		}
@@ -41,14 +41,14 @@ func TestRenewed(t *testing.T) {
 // TestFewAlive: RA2 and RA3, many registers that are set again and again, of which few are alive at once: nothing has to wait. That nothing
 // is added, is the program's own choice.
 func TestFewAlive(t *testing.T) {
-	for sort := range sorts {
+	for sort := range samples.Sorts {
 		c := newCrowd()
-		list := c.come(sort, 50)
+		list := c.Come(sort, 50)
 		c.List = c.List[:1] // of the registers only the first one is set so far
 		for n := range 300 {
 			c.renew(sort, list[(n+1)%50], list[n%50])
 		}
-		c.leave(sort, []int{list[0]})
+		c.Leave(sort, []int{list[0]})
 		d := holdUsual(t, c.Code)
 		if slots, more := added(c.Code, d); slots != 0 || more != 0 || samples.IsSingle(c.Code) {
 			t.Errorf("%d slots and %d instructions more", slots, more)
@@ -59,28 +59,28 @@ func TestFewAlive(t *testing.T) {
 // TestRenewedInBlocks: RA2 and RA3, registers that come ahead of a block and are set anew in it, where they stand in a register or wait in a
 // slot: what they hold behind it hangs on whether it was done. Others come and go in the block, behind it, or both.
 func TestRenewedInBlocks(t *testing.T) {
-	for sort := range sorts {
+	for sort := range samples.Sorts {
 		for _, count := range counts(sort) {
 			for which := range 32 {
 				c := newCrowd()
-				when := c.load(1)
-				list := c.come(sort, count)
+				when := c.Load(1)
+				list := c.Come(sort, count)
 				c.when(when)
 				some := list[which%4*count/4:]
 				for k, register := range some {
 					c.renew(sort, register, some[len(some)-1-k])
 				}
 				if which&4 != 0 {
-					c.leave(sort, c.come(sort, mostOf(sort)+2))
+					c.Leave(sort, c.Come(sort, samples.MostOf(sort)+2))
 				}
 				if which&8 != 0 {
 					c.renew(sort, list[0], list[count-1])
 				}
-				c.put("End")
+				c.Put("End")
 				if which&16 != 0 {
-					c.leave(sort, c.come(sort, mostOf(sort)+2))
+					c.Leave(sort, c.Come(sort, samples.MostOf(sort)+2))
 				}
-				c.leave(sort, list)
+				c.Leave(sort, list)
 				holdUsual(t, c.Code)
 			}
 		}
@@ -90,27 +90,27 @@ func TestRenewedInBlocks(t *testing.T) {
 // TestRenewedFirst: RA2 and RA3, registers that a block sets anew ahead of reading them: what they held is not alive in it, but behind it
 // where it is left out.
 func TestRenewedFirst(t *testing.T) {
-	for sort := range sorts {
+	for sort := range samples.Sorts {
 		for _, count := range counts(sort) {
 			for which := range 8 {
 				c := newCrowd()
-				when := c.load(1)
-				list := c.come(sort, count)
+				when := c.Load(1)
+				list := c.Come(sort, count)
 				c.when(when)
-				others := c.come(sort, mostOf(sort)+which)
+				others := c.Come(sort, samples.MostOf(sort)+which)
 				for k, register := range list {
 					if which&1 == 0 || k%2 == 0 {
 						c.renew(sort, register, others[k%len(others)])
 					}
 				}
 				if which&2 == 0 {
-					c.leave(sort, others)
+					c.Leave(sort, others)
 				}
 				if which&4 == 0 {
-					c.leave(sort, list)
+					c.Leave(sort, list)
 				}
-				c.put("End")
-				c.leave(sort, list)
+				c.Put("End")
+				c.Leave(sort, list)
 				holdUsual(t, c.Code)
 			}
 		}
@@ -121,30 +121,30 @@ func TestRenewedFirst(t *testing.T) {
 func TestRenewedDeep(t *testing.T) {
 	g := &samples.Grower{Source: 17}
 	for n := range 300 {
-		sort := n % sorts
+		sort := n % samples.Sorts
 		c := newCrowd()
-		list := c.come(sort, 3+g.Below(3*mostOf(sort)))
+		list := c.Come(sort, 3+g.Below(3*samples.MostOf(sort)))
 		depth := 0
 		for range 40 {
 			switch g.Below(6) {
 			case 0:
 				if depth < 5 {
-					c.when(c.set(1, []string{"Inc", "Not"}[g.Below(2)], c.load(1)))
+					c.when(c.Set(1, []string{"Inc", "Not"}[g.Below(2)], c.Load(1)))
 					depth++
 				}
 			case 1:
 				if depth > 0 {
-					c.put("End")
+					c.Put("End")
 					depth--
 				}
 			case 2:
-				c.leave(sort, c.come(sort, 1+g.Below(2*mostOf(sort))))
+				c.Leave(sort, c.Come(sort, 1+g.Below(2*samples.MostOf(sort))))
 			default:
 				c.renew(sort, list[g.Below(len(list))], list[g.Below(len(list))])
 			}
 		}
-		c.put(strings.Repeat("End;", depth))
-		c.leave(sort, list)
+		c.Put(strings.Repeat("End;", depth))
+		c.Leave(sort, list)
 		holdUsual(t, c.Code)
 	}
 }
@@ -154,10 +154,10 @@ func TestSourcesAgain(t *testing.T) {
 	for sort, names := range [][]string{{"Number =3f800000", "Number =40000000"}, {"Whole N1", "Whole N2"}, {"Grad", "Param"}, {"Grad", "Grad N1"}, {"Param", "Grad"}} {
 		for _, isBlock := range []bool{false, true} {
 			c := newCrowd()
-			when := c.load(1)
+			when := c.Load(1)
 			var list []int
 			for range 40 {
-				list = append(list, c.set(sort, names[0]))
+				list = append(list, c.Set(sort, names[0]))
 			}
 			if isBlock {
 				c.when(when)
@@ -169,9 +169,9 @@ func TestSourcesAgain(t *testing.T) {
 				slices.Reverse(list)
 			}
 			if isBlock {
-				c.put("End")
+				c.Put("End")
 			}
-			c.leave(sort, list)
+			c.Leave(sort, list)
 			holdUsual(t, c.Code)
 		}
 	}
@@ -179,19 +179,19 @@ func TestSourcesAgain(t *testing.T) {
 
 // TestNeverReadAgain: RA2, registers that are set and never read have room, too, where there is too much of everything.
 func TestNeverReadAgain(t *testing.T) {
-	for sort := range sorts {
+	for sort := range samples.Sorts {
 		c := newCrowd()
-		when := c.load(1)
-		list := c.come(sort, 2*mostOf(sort))
+		when := c.Load(1)
+		list := c.Come(sort, 2*samples.MostOf(sort))
 		for range 5 {
-			c.more(sort, list[0])
+			c.More(sort, list[0])
 			c.when(when)
-			c.more(sort, list[len(list)-1])
+			c.More(sort, list[len(list)-1])
 			c.renew(sort, list[3], list[1])
 			c.renew(sort, list[3], list[2])
-			c.put("End")
+			c.Put("End")
 		}
-		c.leave(sort, slices.DeleteFunc(list, func(register int) bool { return register == list[3] }))
+		c.Leave(sort, slices.DeleteFunc(list, func(register int) bool { return register == list[3] }))
 		holdUsual(t, c.Code)
 	}
 }
@@ -202,9 +202,9 @@ func TestFewStay(t *testing.T) {
 	g := &samples.Grower{Source: 18}
 	full := 0
 	for range 800 {
-		c := merged(g, g.SingleCode(300), keepVector)
-		if !isFew(registersOf(c)) {
-			t.Fatalf("%v registers", registersOf(c))
+		c := g.Merged(g.SingleCode(300), keepVector)
+		if !samples.IsFew(samples.Registers(c)) {
+			t.Fatalf("%v registers", samples.Registers(c))
 		}
 		d := hold(t, g, c)
 		if slots, more := added(c, d); slots != 0 || more != 0 {
@@ -221,19 +221,19 @@ func TestFewStay(t *testing.T) {
 
 // TestSwapped: RA2, two registers whose values change places in a block, by way of a third one.
 func TestSwapped(t *testing.T) {
-	for sort := range sorts {
+	for sort := range samples.Sorts {
 		for _, count := range counts(sort) {
 			c := newCrowd()
-			when := c.load(1)
-			list := c.come(sort, count)
+			when := c.Load(1)
+			list := c.Come(sort, count)
 			c.when(when)
 			for k := range count / 2 {
 				last := count - 1 - k
-				third := c.set(sort, "Copy", list[k])
+				third := c.Set(sort, "Copy", list[k])
 				c.List = append(c.List, api.Inst{Op: 3, D: list[k], A: list[last]}, api.Inst{Op: 3, D: list[last], A: third})
 			}
-			c.put("End")
-			c.leave(sort, list)
+			c.Put("End")
+			c.Leave(sort, list)
 			holdUsual(t, c.Code)
 		}
 	}

@@ -21,8 +21,6 @@ const (
 	maxCode  = 1 << 15
 	maxNest  = 64
 
-	keepScalar = 16
-	keepWhole  = 16
 	keepVector = 8
 )
 
@@ -65,10 +63,10 @@ func holdForm(t *testing.T, c api.Code) api.Code {
 		t.Errorf("another signature")
 	}
 	holdSlots(t, c, d)
-	if !isFew(registersOf(d)) || !isFew(pressureOf(d)) {
-		t.Errorf("%v registers, Pressure %v", registersOf(d), pressureOf(d))
+	if !samples.IsFew(samples.Registers(d)) || !samples.IsFew(pressureOf(d)) {
+		t.Errorf("%v registers, Pressure %v", samples.Registers(d), pressureOf(d))
 	}
-	if samples.IsSingle(c) && isFew(pressureOf(c)) && (len(d.Slots) > len(c.Slots) || len(d.List) > len(c.List)) {
+	if samples.IsSingle(c) && samples.IsFew(pressureOf(c)) && (len(d.Slots) > len(c.Slots) || len(d.List) > len(c.List)) {
 		t.Errorf("%d slots became %d, %d instructions became %d", len(c.Slots), len(d.Slots), len(c.List), len(d.List))
 	}
 	if again := allocated(t, c); !ir.Equal(again, d) {
@@ -101,16 +99,16 @@ func holdSlots(t *testing.T, c, d api.Code) {
 // has just as many as are alive at once, if these are few.
 func holdChoice(t *testing.T, c, d api.Code) {
 	t.Helper()
-	if isFew(registersOf(c)) && (len(d.Slots) != len(c.Slots) || len(d.List) != len(c.List)) {
+	if samples.IsFew(samples.Registers(c)) && (len(d.Slots) != len(c.Slots) || len(d.List) != len(c.List)) {
 		t.Errorf("%d slots became %d, %d instructions became %d", len(c.Slots), len(d.Slots), len(c.List), len(d.List))
 	}
-	for sort, count := range registersOf(d) {
-		if count > registersOf(c)[sort] {
-			t.Errorf("%d registers became %d", registersOf(c)[sort], count)
+	for sort, count := range samples.Registers(d) {
+		if count > samples.Registers(c)[sort] {
+			t.Errorf("%d registers became %d", samples.Registers(c)[sort], count)
 		}
 	}
-	if samples.IsSingle(c) && isFew(pressureOf(c)) && !slices.Equal(registersOf(d), pressureOf(c)) {
-		t.Errorf("%v registers, Pressure was %v", registersOf(d), pressureOf(c))
+	if samples.IsSingle(c) && samples.IsFew(pressureOf(c)) && !slices.Equal(samples.Registers(d), pressureOf(c)) {
+		t.Errorf("%v registers, Pressure was %v", samples.Registers(d), pressureOf(c))
 	}
 }
 

@@ -40,7 +40,7 @@ func edgy(name string, isLooped bool) api.Code {
 	if isLooped {
 		c.loop(2)
 	}
-	list := []int{c.set(2, "Grad"), c.set(2, "Param"), c.load(2)}
+	list := []int{c.Set(2, "Grad"), c.Set(2, "Param"), c.Load(2)}
 	for n := range 20 {
 		reads := []int{list[n], list[n+1], list[n+2]}
 		switch {
@@ -50,20 +50,20 @@ func edgy(name string, isLooped bool) api.Code {
 		default:
 			reads = reads[:2]
 		}
-		list = append(list, c.set(2, name, reads...))
+		list = append(list, c.Set(2, name, reads...))
 	}
 	if isLooped {
-		c.put("Next")
+		c.Put("Next")
 	}
 	var numbers []int
 	for _, register := range list {
-		numbers = append(numbers, c.set(0, "Least", register))
+		numbers = append(numbers, c.Set(0, "Least", register))
 	}
-	c.when(c.set(1, "Test", numbers[3]))
-	c.leave(2, list[2:])
-	c.put("End")
-	c.leave(0, numbers)
-	c.leave(2, list)
+	c.when(c.Set(1, "Test", numbers[3]))
+	c.Leave(2, list[2:])
+	c.Put("End")
+	c.Leave(0, numbers)
+	c.Leave(2, list)
 	for _, register := range list {
 		c.List = append(c.List, api.Inst{Op: 33, A: register, N: 7}, api.Inst{Op: 31, A: register})
 	}
@@ -73,7 +73,7 @@ func edgy(name string, isLooped bool) api.Code {
 // TestEveryWhole: RA2, whole numbers from 0 to the greatest wait in slots and are read again.
 func TestEveryWhole(t *testing.T) {
 	for _, n := range []int{0, 1, 2, 1<<31 - 3, 1<<31 - 2, 1<<31 - 1} {
-		c := straight([sorts]int{0, 60}, byTurns)
+		c := samples.Straight([samples.Sorts]int{0, 60}, samples.ByTurns)
 		c.Slots[1].Int = n
 		hold(t, &samples.Grower{Source: 26}, c)
 	}

@@ -45,8 +45,8 @@ func TestIllFormed(t *testing.T) {
 		func(c *api.Code) { c.Slots[0].Int = 1 }, func(c *api.Code) { c.Sign[2].Len = 0 }, func(c *api.Code) { c.Regs[17].Param = 3 },
 		func(c *api.Code) { c.List = append(c.List, c.List[0], api.Inst{Op: 35}) },
 	} {
-		for _, count := range [][sorts]int{{3}, {60, 60, 60, 60, 60}} {
-			c := straight(count, asTheyCame)
+		for _, count := range [][samples.Sorts]int{{3}, {60, 60, 60, 60, 60}} {
+			c := samples.Straight(count, samples.AsTheyCame)
 			c.Regs = append(c.Regs, usual("").Regs...)
 			spoil(&c)
 			holdRefused(t, c)
@@ -62,7 +62,7 @@ func TestTaken(t *testing.T) {
 	for n := range 6000 {
 		c := g.SingleCode(60)
 		if n%2 == 0 {
-			c = merged(g, c, 1+g.Below(20))
+			c = g.Merged(c, 1+g.Below(20))
 		}
 		if len(c.List) == 0 {
 			continue

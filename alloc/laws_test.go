@@ -29,7 +29,7 @@ func (n *changes) take(c, d api.Code) {
 		is    bool
 	}{
 		{&n.single, samples.IsSingle(c)},
-		{&n.few, samples.IsSingle(c) && isFew(pressureOf(c)) && !isFew(registersOf(c))},
+		{&n.few, samples.IsSingle(c) && samples.IsFew(pressureOf(c)) && !samples.IsFew(samples.Registers(c))},
 		{&n.waiting, samples.IsSingle(c) && slots > 0},
 		{&n.ready, slots == 0 && list > 0},
 		{&n.cut, after[36] > before[36]},
@@ -59,7 +59,7 @@ func TestCodesFromAllOver(t *testing.T) {
 	for n := range 1000 {
 		c := g.SingleCode(40 + n%4*120)
 		f, _ := fuse.Fuse(c)
-		m := merged(g, c, 1+g.Below(60))
+		m := g.Merged(c, 1+g.Below(60))
 		for _, c := range []api.Code{c, f, m, g.Code(60)} {
 			seen.take(c, hold(t, g, c))
 		}
@@ -75,7 +75,7 @@ func TestLongCodes(t *testing.T) {
 	for range 8 {
 		c := g.SingleCode(2000)
 		f, _ := fuse.Fuse(c)
-		for _, c := range []api.Code{c, f, merged(g, c, 20+g.Below(200)), merged(g, f, 10+g.Below(30))} {
+		for _, c := range []api.Code{c, f, g.Merged(c, 20+g.Below(200)), g.Merged(f, 10+g.Below(30))} {
 			seen.take(c, hold(t, g, c))
 		}
 	}

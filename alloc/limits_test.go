@@ -34,10 +34,10 @@ const spare = maxSlots - 10
 
 // TestMostSlots: RA2, as many values waiting as there may be slots, of each sort and of all together; with one more: ErrSlots.
 func TestMostSlots(t *testing.T) {
-	for _, count := range [][sorts]int{
+	for _, count := range [][samples.Sorts]int{
 		{16 + spare}, {0, 16 + spare}, {0, 0, 8 + spare}, {0, 0, 0, 8 + spare}, {0, 0, 0, 0, 8 + spare}, {16 + 1000, 16 + 1000, 8 + 1000, 8 + 1000, 8 + spare - 4000},
 	} {
-		c := straight(count, slices.Reverse[[]int])
+		c := samples.Straight(count, slices.Reverse[[]int])
 		if d := holdLimit(t, c); len(d.Slots) != maxSlots {
 			t.Errorf("%v: %d slots", count, len(d.Slots))
 		}
@@ -45,7 +45,7 @@ func TestMostSlots(t *testing.T) {
 			if count[sort] > 0 {
 				more := count
 				more[sort]++
-				holdTooMuch(t, straight(more, slices.Reverse[[]int]), errSlots)
+				holdTooMuch(t, samples.Straight(more, slices.Reverse[[]int]), errSlots)
 			}
 		}
 	}
@@ -54,13 +54,13 @@ func TestMostSlots(t *testing.T) {
 // TestSlotsAlready: RA2, code that has as many slots as may be, or one less: where one value has to wait, there is room for it or not; where
 // none has to, nothing is told.
 func TestSlotsAlready(t *testing.T) {
-	for sort := range sorts {
+	for sort := range samples.Sorts {
 		for more := range 3 {
-			count := [sorts]int{}
-			count[sort] = mostOf(sort) + more
-			c := straight(count, asTheyCame)
+			count := [samples.Sorts]int{}
+			count[sort] = samples.MostOf(sort) + more
+			c := samples.Straight(count, samples.AsTheyCame)
 			for n := len(c.Slots); n < maxSlots-1; n++ {
-				c.Slots = append(c.Slots, api.Slot{Type: typeOf(n % sorts), Keep: n%7 < 3})
+				c.Slots = append(c.Slots, api.Slot{Type: samples.TypeOf(n % samples.Sorts), Keep: n%7 < 3})
 			}
 			if more > 1 {
 				holdTooMuch(t, c, errSlots)
@@ -82,13 +82,13 @@ func TestSlotsAlready(t *testing.T) {
 func TestSourcesNeedNone(t *testing.T) {
 	c := newCrowd()
 	for n := len(c.Slots); n < maxSlots; n++ {
-		c.Slots = append(c.Slots, api.Slot{Type: typeOf(n % sorts), Keep: true})
+		c.Slots = append(c.Slots, api.Slot{Type: samples.TypeOf(n % samples.Sorts), Keep: true})
 	}
 	var list []int
 	for range 6000 {
-		list = append(list, c.set(0, "Number =3f800000"))
+		list = append(list, c.Set(0, "Number =3f800000"))
 	}
-	c.leave(0, list)
+	c.Leave(0, list)
 	holdLimit(t, c.Code)
 }
 
@@ -103,11 +103,11 @@ func filled(c api.Code, length int) api.Code {
 
 // TestMostCode: RA2, code that becomes as long as may be; and longer: ErrSize.
 func TestMostCode(t *testing.T) {
-	for sort := range sorts {
+	for sort := range samples.Sorts {
 		for _, more := range []int{1, 2, 100} {
-			count := [sorts]int{}
-			count[sort] = mostOf(sort) + more
-			c := straight(count, asTheyCame)
+			count := [samples.Sorts]int{}
+			count[sort] = samples.MostOf(sort) + more
+			c := samples.Straight(count, samples.AsTheyCame)
 			if d := holdLimit(t, filled(c, maxCode-2*more)); len(d.List) != maxCode {
 				t.Errorf("%d instructions", len(d.List))
 			}
@@ -120,7 +120,7 @@ func TestMostCode(t *testing.T) {
 // TestMostLoops: RA2, a loop that has to be cut, in code that becomes as long as may be, and longer.
 func TestMostLoops(t *testing.T) {
 	c := newCrowd()
-	c.withNumbers(2, c.come(0, 20), 1)
+	c.withNumbers(2, c.Come(0, 20), 1)
 	d := holdUsual(t, c.Code)
 	more := len(d.List) - len(c.List)
 	if more != 12 { // five wait for a while, and the loop is cut once
@@ -134,27 +134,27 @@ func TestMostLoops(t *testing.T) {
 
 // TestBothTooMany: rule 2, where there are too many slots and too many instructions, ErrSlots is told, as it is named first.
 func TestBothTooMany(t *testing.T) {
-	c := straight([sorts]int{5000}, asTheyCame)
+	c := samples.Straight([samples.Sorts]int{5000}, samples.AsTheyCame)
 	holdTooMuch(t, c, errSlots)
 	holdTooMuch(t, filled(c, maxCode), errSlots)
-	holdTooMuch(t, filled(straight([sorts]int{4000}, asTheyCame), maxCode), errSize)
+	holdTooMuch(t, filled(samples.Straight([samples.Sorts]int{4000}, samples.AsTheyCame), maxCode), errSize)
 }
 
 // TestLongestSingle: RA2, single code of as many instructions and registers as may be, of which no more are alive at once than there may be
 // registers: nothing is told, and nothing added.
 func TestLongestSingle(t *testing.T) {
-	for sort := range sorts {
+	for sort := range samples.Sorts {
 		c := newCrowd()
-		list := c.come(sort, mostOf(sort))
-		for n := 0; len(c.Regs) < maxRegs-mostOf(sort); n = (n + 3) % len(list) {
-			list[n] = c.more(sort, list[n])
+		list := c.Come(sort, samples.MostOf(sort))
+		for n := 0; len(c.Regs) < maxRegs-samples.MostOf(sort); n = (n + 3) % len(list) {
+			list[n] = c.More(sort, list[n])
 		}
-		c.leave(sort, list)
+		c.Leave(sort, list)
 		for len(c.List) < maxCode {
 			c.List = append(c.List, c.List[len(c.List)-1])
 		}
 		d := holdLimit(t, c.Code)
-		if p := pressureOf(c.Code); p[sort] != mostOf(sort) || len(d.List) != maxCode || len(d.Regs) != p[sort] {
+		if p := pressureOf(c.Code); p[sort] != samples.MostOf(sort) || len(d.List) != maxCode || len(d.Regs) != p[sort] {
 			t.Errorf("Pressure %v, %d instructions, %d registers", p, len(d.List), len(d.Regs))
 		}
 	}
@@ -163,14 +163,14 @@ func TestLongestSingle(t *testing.T) {
 // TestLongestFew: RA2, code of as many instructions as may be that is not single, with as many registers as there may be: nothing is told,
 // and nothing added, however many blocks there are.
 func TestLongestFew(t *testing.T) {
-	for sort := range sorts {
+	for sort := range samples.Sorts {
 		c := newCrowd()
-		when := c.load(1)
-		list := c.come(sort, mostOf(sort)-2)
+		when := c.Load(1)
+		list := c.Come(sort, samples.MostOf(sort)-2)
 		for n := 0; len(c.List) < maxCode-100; n++ {
 			c.when(when)
 			c.renew(sort, list[n%len(list)], list[n*5%len(list)])
-			c.put("End")
+			c.Put("End")
 		}
 		c.List = append(c.List, api.Inst{Op: 33, A: list[0], N: sort})
 		d := holdLimit(t, filled(c.Code, maxCode))
@@ -184,17 +184,17 @@ func TestLongestFew(t *testing.T) {
 func TestManyBlocks(t *testing.T) {
 	for _, depth := range []int{1, 7, maxNest} {
 		c := newCrowd()
-		when := c.load(1)
-		list := c.come(0, 200)
+		when := c.Load(1)
+		list := c.Come(0, 200)
 		for len(c.List) < maxCode-2*maxNest-8000 {
 			for range depth {
 				c.when(when)
 			}
 			for range depth {
-				c.put("End")
+				c.Put("End")
 			}
 		}
-		c.leave(0, list)
+		c.Leave(0, list)
 		holdLimit(t, c.Code)
 	}
 }

@@ -17,7 +17,7 @@ func TestCodeStays(t *testing.T) {
 	for i := range 2000 {
 		c := g.SingleCode(30 + i%5*60)
 		if i%2 == 0 {
-			c = merged(g, c, 1+g.Below(40))
+			c = g.Merged(c, 1+g.Below(40))
 		}
 		holdOwn(t, c)
 	}
@@ -71,7 +71,7 @@ func TestItselfStays(t *testing.T) {
 
 // TestRefusedStays: rules 2 and 3, code that is refused, as it is not well formed or would be too much, is not changed.
 func TestRefusedStays(t *testing.T) {
-	for _, c := range []api.Code{usual("Grad D9; Load D4 N1; When A4; Out A9; End; Loop; Neg D8 A9"), straight([sorts]int{5000}, asTheyCame), filled(straight([sorts]int{17}, asTheyCame), maxCode)} {
+	for _, c := range []api.Code{usual("Grad D9; Load D4 N1; When A4; Out A9; End; Loop; Neg D8 A9"), samples.Straight([samples.Sorts]int{5000}, samples.AsTheyCame), filled(samples.Straight([samples.Sorts]int{17}, samples.AsTheyCame), maxCode)} {
 		c = samples.RoomyCode(c)
 		before := samples.OpenedCode(c)
 		if _, e := Alloc(c); e == api.OK {
@@ -86,7 +86,7 @@ func TestRefusedStays(t *testing.T) {
 
 // TestListsApart: rule 3, what is put to a list of an answer is seen in no other, nor in the argument.
 func TestListsApart(t *testing.T) {
-	for _, c := range []api.Code{usual("Grad D9; Load D10 N2; Number D0; Add D11 A10 B9; Store A11 N2; Out A11"), straight([sorts]int{20, 20, 20}, asTheyCame)} {
+	for _, c := range []api.Code{usual("Grad D9; Load D10 N2; Number D0; Add D11 A10 B9; Store A11 N2; Out A11"), samples.Straight([samples.Sorts]int{20, 20, 20}, samples.AsTheyCame)} {
 		c := samples.RoomyCode(c)
 		before := samples.OpenedCode(c)
 		d := allocated(t, c)
@@ -108,7 +108,7 @@ func TestSideBySide(t *testing.T) {
 	for n := range 30 {
 		c := g.SingleCode(300)
 		if n%2 == 0 {
-			c = merged(g, c, 1+g.Below(40))
+			c = g.Merged(c, 1+g.Below(40))
 		}
 		want, pressure := allocated(t, c), pressureOf(c)
 		for range 4 {

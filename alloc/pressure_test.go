@@ -159,7 +159,7 @@ func TestPressureFromAllOver(t *testing.T) {
 		c := g.SingleCode(70)
 		switch n % 3 {
 		case 1:
-			c = merged(g, c, 1+g.Below(6))
+			c = g.Merged(c, 1+g.Below(6))
 		case 2:
 			c = g.Code(70)
 		}
@@ -170,7 +170,7 @@ func TestPressureFromAllOver(t *testing.T) {
 		if samples.Counts(c)[34] > 1 {
 			blocks++
 		}
-		if !slices.Equal(want, registersOf(c)) {
+		if !slices.Equal(want, samples.Registers(c)) {
 			dead++
 		}
 	}

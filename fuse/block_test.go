@@ -95,5 +95,5 @@ func TestNoBlockMoves(t *testing.T) {
 
 // marks are a code's marks of blocks of OpWhen.
 func marks(c api.Code) []api.Inst {
-	return slices.DeleteFunc(slices.Clone(c.List), func(i api.Inst) bool { return deeper(i) == 0 })
+	return slices.DeleteFunc(slices.Clone(c.List), func(i api.Inst) bool { return samples.Deeper(i) == 0 })
 }

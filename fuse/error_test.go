@@ -56,7 +56,7 @@ func TestTaken(t *testing.T) {
 	for n := range 8000 {
 		c := g.Code(20)
 		if n%2 == 0 {
-			c = looped(g, g.SingleCode(20))
+			c = g.Looped(g.SingleCode(20))
 		}
 		if len(c.List) == 0 {
 			continue

@@ -50,7 +50,7 @@ func holdForm(t *testing.T, c api.Code) api.Code {
 	if !slices.Equal(d.Sign, c.Sign) || !slices.Equal(d.Regs, c.Regs) || !slices.Equal(d.Slots, c.Slots) {
 		t.Errorf("another signature, or other registers or slots")
 	}
-	if !maps.Equal(tally(bare(d)), tally(bare(c))) {
+	if !maps.Equal(tally(samples.Bare(d)), tally(samples.Bare(c))) {
 		t.Errorf("other instructions")
 	}
 	if samples.IsSingle(c) != samples.IsSingle(d) {
@@ -71,10 +71,10 @@ func holdForm(t *testing.T, c api.Code) api.Code {
 // holdBounded: FU3 of what code of which it speaks becomes. That there is nothing left to gather is the program's own choice.
 func holdBounded(t *testing.T, c, d api.Code) {
 	t.Helper()
-	if at := looseAt(d); at >= 0 {
+	if at := samples.LooseAt(d); at >= 0 {
 		t.Errorf("what stands at %d is loose", at)
 	}
-	if at := neighboursAt(d); at >= 0 {
+	if at := samples.NeighboursAt(d); at >= 0 {
 		t.Errorf("two loops are neighbours at %d", at)
 	}
 	if loops, most := samples.Counts(d)[36], mayBeLooped(c); loops > most {

@@ -63,7 +63,7 @@ func plain() []string {
 // paramOf is the parameter of an instruction that may be looped.
 func paramOf(t *testing.T, text string) int {
 	t.Helper()
-	param := loopByWords(usual(""), read(text)[0])
+	param := samples.LoopOf(usual(""), read(text)[0])
 	if param < 0 {
 		t.Fatalf("%s may not be looped", text)
 	}
@@ -95,7 +95,7 @@ func TestKindsWhole(t *testing.T) {
 		}
 	}
 	for _, text := range plain() {
-		if loopByWords(usual(""), read(text)[0]) >= 0 {
+		if samples.LoopOf(usual(""), read(text)[0]) >= 0 {
 			t.Errorf("%s may be looped", text)
 		}
 	}

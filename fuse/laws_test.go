@@ -23,11 +23,11 @@ func (n *changes) take(c, d api.Code) {
 		is    bool
 	}{
 		{&n.single, samples.IsSingle(c)},
-		{&n.loose, looseAt(c) >= 0},
-		{&n.neighbours, neighboursAt(c) >= 0},
+		{&n.loose, samples.LooseAt(c) >= 0},
+		{&n.neighbours, samples.NeighboursAt(c) >= 0},
 		{&n.fewer, after[36] > 0 && after[36] < before[36]},
 		{&n.cut, after[36] > len(c.Sign) && after[34] == 0},
-		{&n.moved, listed(bare(c)) != listed(bare(d))},
+		{&n.moved, listed(samples.Bare(c)) != listed(samples.Bare(d))},
 		{&n.inner, loopsInBlocks(d) > 0},
 		{&n.params, paramsOfLoops(d) > 1},
 	} {
@@ -48,7 +48,7 @@ func (n *changes) hold(t *testing.T, least int) {
 func loopsInBlocks(c api.Code) int {
 	depth, count := 0, 0
 	for _, i := range c.List {
-		depth += deeper(i)
+		depth += samples.Deeper(i)
 		if i.Op == 36 && depth > 0 {
 			count++
 		}
@@ -74,7 +74,7 @@ func TestCodesFromAllOver(t *testing.T) {
 		for _, c := range []api.Code{g.Code(60), g.SingleCode(60)} {
 			for range 2 {
 				seen.take(c, hold(t, g, c))
-				c = looped(g, c)
+				c = g.Looped(c)
 			}
 		}
 	}
@@ -90,7 +90,7 @@ func TestLongCodes(t *testing.T) {
 	for range 80 {
 		for _, c := range []api.Code{g.Code(500), g.SingleCode(500)} {
 			seen.take(c, hold(t, g, c))
-			c = looped(g, c)
+			c = g.Looped(c)
 			seen.take(c, hold(t, g, c))
 		}
 	}

@@ -73,7 +73,7 @@ func TestLongest(t *testing.T) {
 func apart(c api.Code) []api.Inst {
 	var list []api.Inst
 	for _, i := range c.List {
-		if param := loopByWords(c, i); param >= 0 {
+		if param := samples.LoopOf(c, i); param >= 0 {
 			list = append(list, api.Inst{Op: 36, N: param}, i, api.Inst{Op: 37})
 		} else {
 			list = append(list, i)
@@ -156,7 +156,7 @@ func TestDeeper(t *testing.T) {
 			t.Errorf("it is bounded")
 		}
 		inner := slices.IndexFunc(d.List, func(i api.Inst) bool { return i.Op == 35 })
-		if at := looseAt(d); at >= 0 && (at > inner || slices.Index(d.List[at:], api.Inst{Op: 34, A: 4}) >= 0) {
+		if at := samples.LooseAt(d); at >= 0 && (at > inner || slices.Index(d.List[at:], api.Inst{Op: 34, A: 4}) >= 0) {
 			t.Errorf("what stands at %d is loose: %s", at, listed(d.List))
 		}
 		if strings.Contains(text, "Neg") && samples.Counts(d)[36] < 2*maxNest {
@@ -210,7 +210,7 @@ func TestMost(t *testing.T) {
 		c.List = append(c.List, api.Inst{Op: api.OpLoad, D: register, N: register % maxSlots}, api.Inst{Op: api.OpOut, A: register})
 	}
 	long := c
-	if d := holdForm(t, long); samples.Counts(d)[36] != 64 || looseAt(d) >= 0 || neighboursAt(d) >= 0 {
+	if d := holdForm(t, long); samples.Counts(d)[36] != 64 || samples.LooseAt(d) >= 0 || samples.NeighboursAt(d) >= 0 {
 		t.Errorf("%s", samples.Show(d))
 	}
 	c.List = slices.Clone(c.List[:7000])
@@ -231,7 +231,7 @@ func TestPlainBesideMany(t *testing.T) {
 		c.List = append(c.List, api.Inst{Op: api.OpGrad, D: 1 + i}, api.Inst{Op: api.OpOut, A: 1 + i})
 	}
 	c.List = append(c.List, slices.Repeat(read("Number D0 =3f800000; Neg D0 A0"), (maxCode-256)/2)...)
-	if d := holdForm(t, c); len(d.List) != len(c.List)+128 || looseAt(d) >= 0 {
+	if d := holdForm(t, c); len(d.List) != len(c.List)+128 || samples.LooseAt(d) >= 0 {
 		t.Errorf("%s", samples.Show(d))
 	}
 }

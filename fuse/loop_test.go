@@ -81,16 +81,16 @@ func TestAnyLoops(t *testing.T) {
 			c = g.SingleCode(40)
 		}
 		plain := samples.CloneCode(c)
-		plain.List = bare(c)
+		plain.List = samples.Bare(c)
 		want := holdForm(t, plain)
 		for range 3 {
-			l := looped(g, c)
+			l := g.Looped(c)
 			if d := hold(t, g, l); !slices.Equal(d.List, want.List) {
 				t.Fatalf("%s became %s, want %s", samples.Show(l), samples.Show(d), samples.Show(want))
 			}
 			empty += samples.Counts(l)[36] - samples.Counts(want)[36]
-			neighbours += min(neighboursAt(l), 0) + 1
-			loose += min(looseAt(l), 0) + 1
+			neighbours += min(samples.NeighboursAt(l), 0) + 1
+			loose += min(samples.LooseAt(l), 0) + 1
 		}
 	}
 	if empty < 1000 || neighbours < 1000 || loose < 1000 {

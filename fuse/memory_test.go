@@ -20,7 +20,7 @@ func TestCodeStays(t *testing.T) {
 			c = g.SingleCode(40)
 		}
 		if i%4 < 2 {
-			c = looped(g, c)
+			c = g.Looped(c)
 		}
 		holdOwn(t, c)
 	}
@@ -99,7 +99,7 @@ func TestSideBySide(t *testing.T) {
 	g := &samples.Grower{Source: 42}
 	var group sync.WaitGroup
 	for range 30 {
-		c := looped(g, g.Code(80))
+		c := g.Looped(g.Code(80))
 		want := fused(t, c)
 		for range 4 {
 			group.Go(func() {

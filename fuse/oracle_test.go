@@ -1,94 +1,29 @@
 package fuse
 
 import (
-	"slices"
-
 	"lathe/api"
 	"lathe/samples"
 )
-
-// loopByWords is the parameter of an instruction that may be looped, by the words of the chapters: elementwise with a vector as its D, or
-// OpGrad, OpParam, OpOut, OpLoad, OpStore of a vector; -1 of any other.
-func loopByWords(c api.Code, i api.Inst) int {
-	register := -1
-	switch {
-	case i.Op >= 3 && i.Op <= 15, i.Op == 29, i.Op == 30, i.Op == 32:
-		register = i.D
-	case i.Op == 31, i.Op == 33:
-		register = i.A
-	}
-	if register < 0 || c.Regs[register].Kind != 3 {
-		return -1
-	}
-	return c.Regs[register].Param
-}
 
 // mayBeLooped is how many instructions of a code may be.
 func mayBeLooped(c api.Code) int {
 	count := 0
 	for _, i := range c.List {
-		if loopByWords(c, i) >= 0 {
+		if samples.LoopOf(c, i) >= 0 {
 			count++
 		}
 	}
 	return count
 }
 
-// looseAt is the place of the first instruction that is loose; -1, if none is.
-func looseAt(c api.Code) int {
-	isLooped := false
-	for at, i := range c.List {
-		switch {
-		case i.Op == 36:
-			isLooped = true
-		case i.Op == 37:
-			isLooped = false
-		case !isLooped && loopByWords(c, i) >= 0:
-			return at
-		}
-	}
-	return -1
-}
-
-// neighboursAt is the place between the first two loops that are neighbours; -1, if none are.
-func neighboursAt(c api.Code) int {
-	param := -1 // of the loop that is open, or was the last one
-	for at, i := range c.List {
-		if i.Op != 36 {
-			continue
-		}
-		if at > 0 && c.List[at-1].Op == 37 && param == i.N {
-			return at
-		}
-		param = i.N
-	}
-	return -1
-}
-
-// bare is a code's instructions but for OpLoop and OpNext.
-func bare(c api.Code) []api.Inst {
-	return slices.DeleteFunc(slices.Clone(c.List), func(i api.Inst) bool { return i.Op == 36 || i.Op == 37 })
-}
-
-// deeper is how many more blocks of OpWhen are open behind an instruction.
-func deeper(i api.Inst) int {
-	switch i.Op {
-	case 34:
-		return 1
-	case 35:
-		return -1
-	}
-	return 0
-}
-
 // isBounded tells whether FU3 speaks of a code.
 func isBounded(c api.Code) bool {
 	depth, deepest := 0, 0
 	for _, i := range c.List {
-		depth += deeper(i)
+		depth += samples.Deeper(i)
 		deepest = max(deepest, depth)
 	}
-	return len(bare(c)) <= 10922 && deepest < maxNest
+	return len(samples.Bare(c)) <= 10922 && deepest < maxNest
 }
 
 // tally is how often each instruction stands in a list.
@@ -98,34 +33,4 @@ func tally(list []api.Inst) map[api.Inst]int {
 		count[i]++
 	}
 	return count
-}
-
-// looped is the code with loops of its own, from all over: around some of what may be looped, alone or beside others, and around nothing.
-func looped(g *samples.Grower, c api.Code) api.Code {
-	d := samples.CloneCode(c)
-	d.List = nil
-	open, depth := -1, 0
-	leave := func() {
-		if open >= 0 {
-			d.List = append(d.List, api.Inst{Op: 37})
-		}
-		open = -1
-	}
-	for _, i := range bare(c) {
-		param := loopByWords(c, i)
-		if param != open || g.Below(4) == 0 {
-			leave()
-		}
-		if open < 0 && param >= 0 && depth < maxNest && g.Below(3) > 0 {
-			d.List = append(d.List, api.Inst{Op: 36, N: param})
-			open = param
-		}
-		d.List = append(d.List, i)
-		depth += deeper(i)
-		if open < 0 && depth < maxNest && len(c.Sign) > 0 && g.Below(12) == 0 {
-			d.List = append(d.List, api.Inst{Op: 36, N: g.Below(len(c.Sign))}, api.Inst{Op: 37})
-		}
-	}
-	leave()
-	return d
 }
