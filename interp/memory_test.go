@@ -1,7 +1,6 @@
 package interp
 
 import (
-	"fmt"
 	"slices"
 	"sync"
 	"testing"
@@ -10,38 +9,6 @@ import (
 	"lathe/ir"
 	"lathe/samples"
 )
-
-func roomyVectors(list [][]api.F) [][]api.F {
-	out := samples.Roomy(list, []api.F{7})
-	for i := range out {
-		out[i] = samples.Roomy(out[i], 7, nan)
-	}
-	return out
-}
-
-// openedVectors are vectors as a text, their spare room too.
-func openedVectors(list [][]api.F) string {
-	text := ""
-	for _, v := range list[:cap(list)] {
-		text += fmt.Sprint(v[:cap(v)])
-	}
-	return text
-}
-
-// ruinList writes over a list, its spare room too.
-func ruinList(list []api.F) {
-	list = list[:cap(list)]
-	for i := range list {
-		list[i] = 0xdeadbeef
-	}
-}
-
-func ruinVectors(list [][]api.F) {
-	for i := range list {
-		ruinList(list[i])
-		list[i] = nil
-	}
-}
 
 // TestCodeStays: IN1 and rule 3, what New is given is not changed, and later changes of it are not seen.
 func TestCodeStays(t *testing.T) {
@@ -100,14 +67,14 @@ func TestVectorsStay(t *testing.T) {
 		c := g.Code(50)
 		r, w := begin(t, c), wordsOf(c)
 		for range 3 {
-			grads, params := roomyVectors(g.Vectors(c.Sign)), roomyVectors(g.Vectors(c.Sign))
-			before := openedVectors(grads) + openedVectors(params)
+			grads, params := samples.RoomyVectors(g.Vectors(c.Sign)), samples.RoomyVectors(g.Vectors(c.Sign))
+			before := samples.OpenedVectors(grads) + samples.OpenedVectors(params)
 			holdStep(t, r, w, grads, params)
-			if openedVectors(grads)+openedVectors(params) != before {
+			if samples.OpenedVectors(grads)+samples.OpenedVectors(params) != before {
 				t.Errorf("%s changed what it was given", samples.Show(c))
 			}
-			ruinVectors(grads)
-			ruinVectors(params)
+			samples.RuinVectors(grads)
+			samples.RuinVectors(params)
 			holdSlots(t, r, w.slots)
 		}
 	}
@@ -138,15 +105,15 @@ func TestUpdatesAreTheCallers(t *testing.T) {
 		for range 3 {
 			grads, params := g.Vectors(c.Sign), g.Vectors(c.Sign)
 			other := r.Clone()
-			before := openedVectors(grads) + openedVectors(params)
+			before := samples.OpenedVectors(grads) + samples.OpenedVectors(params)
 			u, want := stepped(t, r, grads, params), w.step(grads, params)
 			for p := range u {
 				if !slices.Equal(u[p], want[p]) { // the ones ahead of it have been written over
 					t.Errorf("%08x, want %08x: %s", u, want, samples.Show(c))
 				}
-				ruinList(u[p])
+				samples.Ruin(u[p], 0xdeadbeef)
 			}
-			if openedVectors(grads)+openedVectors(params) != before {
+			if samples.OpenedVectors(grads)+samples.OpenedVectors(params) != before {
 				t.Errorf("the updates share memory with what was given: %s", samples.Show(c))
 			}
 			holdSlots(t, r, w.slots)
@@ -157,7 +124,7 @@ func TestUpdatesAreTheCallers(t *testing.T) {
 	}
 	r := begin(t, usual("Grad D8; Store A8 N2; Store A8 N7; Out A8; Copy D9 A8; Out A9; Load D12 N8; Out A12; Out A12 N1; Load D16 N9; Out A16"))
 	for range 3 {
-		ruinVectors(stepped(t, r, usualGrads(), usualParams()))
+		samples.RuinVectors(stepped(t, r, usualGrads(), usualParams()))
 		holdSlot(t, r, 2, []api.F{one, two, three}, 0)
 		holdSlot(t, r, 7, []api.F{one, two, three}, 0)
 		holdSlot(t, r, 8, []api.F{0xff800000, 0xff800000}, 0)
@@ -176,7 +143,7 @@ func TestSlotsAreTheCallers(t *testing.T) {
 			for n := range c.Slots {
 				for range 2 {
 					a, _, _ := r.Slot(n)
-					ruinList(a)
+					samples.Ruin(a, 0xdeadbeef)
 					_ = append(a, 0xdeadbeef)
 				}
 			}
@@ -196,7 +163,7 @@ func TestSlotsOfOneVector(t *testing.T) {
 	r := begin(t, c)
 	stepped(t, r, usualGrads(), usualParams())
 	a, _, _ := r.Slot(2)
-	ruinList(a)
+	samples.Ruin(a, 0xdeadbeef)
 	for _, n := range []int{2, 7, 10} {
 		holdSlot(t, r, n, []api.F{one, two, three}, 0)
 	}

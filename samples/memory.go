@@ -2,6 +2,7 @@ package samples
 
 import (
 	"slices"
+	"strconv"
 
 	"lathe/api"
 )
@@ -31,15 +32,45 @@ func OpenedCode(c api.Code) api.Code {
 
 // RuinCode writes over all that a code has, spare room too.
 func RuinCode(c api.Code) {
-	ruin(c.Sign, api.Param{Name: "ruin", Kind: 9, Len: -1})
-	ruin(c.Regs, api.Type{Kind: 77, Param: 77})
-	ruin(c.Slots, api.Slot{Bits: 0xdeadbeef, Int: -7})
-	ruin(c.List, api.Inst{Op: -7, D: -7, A: -7, B: -7, C: -7, N: -7, Bits: 0xdeadbeef})
+	Ruin(c.Sign, api.Param{Name: "ruin", Kind: 9, Len: -1})
+	Ruin(c.Regs, api.Type{Kind: 77, Param: 77})
+	Ruin(c.Slots, api.Slot{Bits: 0xdeadbeef, Int: -7})
+	Ruin(c.List, api.Inst{Op: -7, D: -7, A: -7, B: -7, C: -7, N: -7, Bits: 0xdeadbeef})
 }
 
-func ruin[T any](list []T, by T) {
+// Ruin writes over a list, its spare room too.
+func Ruin[T any](list []T, by T) {
 	list = list[:cap(list)]
 	for i := range list {
 		list[i] = by
 	}
+}
+
+// RoomyVectors are vectors in memory of their own, with something in the spare room behind each.
+func RoomyVectors(list [][]api.F) [][]api.F {
+	out := Roomy(list, []api.F{7})
+	for n := range out {
+		out[n] = Roomy(out[n], 7, 0x7fc00000)
+	}
+	return out
+}
+
+// OpenedVectors are vectors as a text, their spare room too.
+func OpenedVectors(list [][]api.F) string {
+	var text []byte
+	for _, v := range list[:cap(list)] {
+		text = append(text, '[')
+		for _, a := range v[:cap(v)] {
+			text = append(strconv.AppendUint(text, uint64(a), 16), ' ')
+		}
+	}
+	return string(text)
+}
+
+// RuinVectors writes over vectors, their spare room too.
+func RuinVectors(list [][]api.F) {
+	for n := range list {
+		Ruin(list[n], 0xdeadbeef)
+	}
+	Ruin(list, nil)
 }

@@ -1,7 +1,6 @@
 package vm
 
 import (
-	"fmt"
 	"slices"
 	"strings"
 	"sync"
@@ -12,54 +11,22 @@ import (
 	"lathe/samples"
 )
 
-func roomyVectors(list [][]api.F) [][]api.F {
-	out := samples.Roomy(list, []api.F{7})
-	for i := range out {
-		out[i] = samples.Roomy(out[i], 7, nan)
-	}
-	return out
-}
-
-// openedVectors are vectors as a text, their spare room too.
-func openedVectors(list [][]api.F) string {
-	text := ""
-	for _, v := range list[:cap(list)] {
-		text += fmt.Sprint(v[:cap(v)])
-	}
-	return text
-}
-
-// ruin writes over a list, its spare room too.
-func ruin[T any](list []T, by T) {
-	list = list[:cap(list)]
-	for i := range list {
-		list[i] = by
-	}
-}
-
-func ruinVectors(list [][]api.F) {
-	for i := range list {
-		ruin(list[i], 0xdeadbeef)
-	}
-	ruin(list, nil)
-}
-
 // TestVectorsStay: rule 3, what Step is given is neither changed nor kept, its spare room neither.
 func TestVectorsStay(t *testing.T) {
 	g := &samples.Grower{Source: 21}
 	for range 800 {
 		x := twinOf(t, g.Code(50))
 		for range 3 {
-			grads, params := roomyVectors(g.Vectors(x.code.Sign)), roomyVectors(g.Vectors(x.code.Sign))
-			before := openedVectors(grads) + openedVectors(params)
+			grads, params := samples.RoomyVectors(g.Vectors(x.code.Sign)), samples.RoomyVectors(g.Vectors(x.code.Sign))
+			before := samples.OpenedVectors(grads) + samples.OpenedVectors(params)
 			want, _ := x.w.Clone().Step(grads, params)
 			u := stepped(t, x.m, grads, params)
 			_, _ = x.w.Step(grads, params)
-			if openedVectors(grads)+openedVectors(params) != before {
+			if samples.OpenedVectors(grads)+samples.OpenedVectors(params) != before {
 				t.Errorf("%s changed what it was given", samples.Show(x.code))
 			}
-			ruinVectors(grads)
-			ruinVectors(params)
+			samples.RuinVectors(grads)
+			samples.RuinVectors(params)
 			if !same(u, want) {
 				t.Errorf("%08x, want %08x: %s", u, want, samples.Show(x.code))
 			}
@@ -93,25 +60,25 @@ func TestAnswersAreTheCallers(t *testing.T) {
 			other := x.clone()
 			grads, params := g.Vectors(x.code.Sign), g.Vectors(x.code.Sign)
 			want, _ := x.w.Step(grads, params)
-			before := openedVectors(grads) + openedVectors(params)
+			before := samples.OpenedVectors(grads) + samples.OpenedVectors(params)
 			u := stepped(t, x.m, grads, params)
 			for p := range u {
 				if !slices.Equal(u[p], want[p]) { // the ones ahead of it have been written over
 					t.Errorf("%08x, want %08x: %s", u, want, samples.Show(x.code))
 				}
-				ruin(u[p], 0xdeadbeef)
+				samples.Ruin(u[p], 0xdeadbeef)
 			}
-			if openedVectors(grads)+openedVectors(params) != before {
+			if samples.OpenedVectors(grads)+samples.OpenedVectors(params) != before {
 				t.Errorf("the updates share memory with what was given: %s", samples.Show(x.code))
 			}
 			state := samples.Roomy(x.m.State(), 1, 2)
 			if e := x.m.Set(state); e != api.OK {
 				t.Errorf("Set = %d", e)
 			}
-			ruin(state, 0xdeadbeef)
+			samples.Ruin(state, 0xdeadbeef)
 			for range 2 {
-				ruin(x.m.State(), 0xdeadbeef)
-				ruin(x.m.Signature(), api.Param{Name: "ruin", Kind: 9, Len: -1})
+				samples.Ruin(x.m.State(), 0xdeadbeef)
+				samples.Ruin(x.m.Signature(), api.Param{Name: "ruin", Kind: 9, Len: -1})
 			}
 			if !slices.Equal(x.m.Signature(), x.code.Sign) || !slices.Equal(other.m.Signature(), x.code.Sign) {
 				t.Errorf("%v, want %v", x.m.Signature(), x.code.Sign)
